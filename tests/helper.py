@@ -1,6 +1,6 @@
 """What several tests need: values of all kinds, examples, refusals, and slow but plain ways to the same answers."""
 
-from itertools import product
+from itertools import combinations_with_replacement, product
 
 from gentlerounds import errors
 
@@ -166,3 +166,61 @@ def patterns_over(signs, longest):
     """All patterns over these signs, up to so many behind the first one, with and without the mark of the end."""
     rows = ["/" + "".join(row) for many in range(longest + 1) for row in product(signs, repeat=many)]
     return rows + [row + "$" for row in rows]
+
+
+ALL_LIMITS = [(most, wide) for most in range(1, 7) for wide in range(1, 13)]
+
+NO_LIMITS = ["", ((0, 3),), ((7, 3),), ((1, 0),), ((1, 13),), ((True, 3),), ((1, True),), ((1,),), ((1, 2, 3),), ([1, 2],),
+             [(1, 2)], (1, 2), ((1, 2),) * 5, ((1, 2), None), ((1, 2), ()), (("1", 2),), ((1, "2"),), ((-1, 3),),
+             ((1, 2), (1, 2), (1, 2), (2, 13)), (((1, 2),),), {(1, 2): 1}, ((1, 10 ** 50),)]
+NO_HOURS = ["", (), (0,), (0, 0, 0), (1, 2), (1, -1), (True,), (1, False), (1,) * 13, (0,) * 12, [1], "1", (1, "1"), (1, None),
+            ((1,),), ((1,), (1,)), b"1", 1, {1: 1}]
+
+
+def no_limits():
+    return [value for value in no_tuples() + any_values() + NO_LIMITS if not (isinstance(value, tuple) and not value)]
+
+
+def no_hours():
+    return no_tuples() + any_values() + NO_HOURS
+
+
+def no_rules():
+    """Values that are no rules: none of the form, and pairs with one side wrong."""
+    pairs = [(value, (1,)) for value in no_limits()] + [(((1, 2),), value) for value in no_hours()]
+    return no_tuples() + any_values() + pairs + [(), ((),), ((), (1,), ()), [(), (1,)], ((1,), ())]
+
+
+def no_asks():
+    """Rows for `indexed`: values that are no asks, and the index that is told."""
+    bad = any_values() + ["1", (1,), -1, -10 ** 60]
+    rows = [((value,), 0) for value in bad] + [((0, 0, value, 9), 2) for value in bad]
+    return rows + [((0, 3, 2), 2), ((1, 0), 1), ((0,) * 201, None), ((None,) * 201, None), ((0,) * 199 + (-1,), 199),
+                   ((5, 4, None), 1), ((5, None, 4), 1), ((10 ** 60, 10 ** 60 - 1), 1), (nested(tuple, 30), 0)]
+
+
+def slow_polite(rules, asks):
+    """Whether the asks are polite: they are counted in all windows of moments."""
+    limits, hours = rules
+    if not all(hours[moment % len(hours)] for moment in asks):
+        return False
+    starts = sorted({moment - back for moment in asks for back in range(13)})
+    return all(sum(1 for moment in asks if start <= moment < start + wide) <= most
+               for most, wide in limits for start in starts)
+
+
+def ask_rows(moments, longest):
+    """All rows of asks at these moments up to a length."""
+    return [row for many in range(longest + 1) for row in combinations_with_replacement(moments, many)]
+
+
+def some_limits(source, most=6, wide=12, pairs=4):
+    """Any limits with numbers up to these."""
+    return tuple((source.randint(1, most), source.randint(1, wide)) for _ in range(source.randint(0, pairs)))
+
+
+def some_hours(source, longest=12):
+    while True:
+        hours = tuple(source.choice((0, 1, 1)) for _ in range(source.randint(1, longest)))
+        if 1 in hours:
+            return hours

@@ -9,19 +9,51 @@ FUNCTIONS = {
     "names": """is_name(value) is_path(value) signs_of_paths() is_lesser(path, other)""",
     "patterns": """is_pattern(value) body_of(pattern) places(pattern, path) next_places(pattern, places, sign)
         meets(pattern, path) least_path(met, unmet) covers(pattern, other) are_apart(pattern, other)""",
+    "decisions": """are_paths(value) deciding(paths, path) is_let_by(paths, path) idle_rows(paths)
+        first_decided(paths, index) first_let(paths) first_barred(paths) parting_path(paths, other)
+        are_alike_paths(paths, other) path_table(paths, other) takes_path_table(paths, other, value)""",
+    "limits": """are_limits(value) are_hours(value) are_rules(value) is_open(hours, moment) is_polite(rules, asks)
+        first_wrong(rules, asks) may_ask(rules, asks, moment) soonest(rules, asks, many, *, since=0)
+        most(limits, moments) most_from(rules, moment, moments) most_table(limits) tidied(limits)
+        tidied_hours(hours) joined(limits, other)""",
+    "monitors": """are_counts(limits, value) counts_at(rules, asks, moment) most_now(rules, moment, counts)
+        lets(rules, moment, counts, many) next_counts(rules, moment, counts, many) wait(rules, moment, counts)""",
+    "sharing": """is_stricter(rules, other) loose_row(rules, other) are_alike_limits(limits, other)
+        are_alike_rules(rules, other) keep(parts, shared) breaking(parts, shared) arrivals(parts, rows)
+        dealt(shared, many, late) most_crawlers(limits, late, shared)""",
+    "files": """is_file(value) group_of(file, crawler) paths_of(file, crawler) rules_of(file, crawler)
+        is_let(file, crawler, path) reason(file, crawler, path)""",
 }
+
+METHODS = {
+    ("monitors", "Monitor"): """__init__(self, rules, *, moment=0) lets(self, moment, many=1) ask(self, moment, many=1)
+        soonest(self, many=1) undo(self)""",
+}
+
+
+def signatures(told):
+    return " ".join(told.split()).replace(") ", ")\n").split("\n")
 
 
 class TestInterface(unittest.TestCase):
     def test_functions(self):
         for name, told in FUNCTIONS.items():
             module = importlib.import_module("gentlerounds." + name)
-            for signature in " ".join(told.split()).replace(") ", ")\n").split("\n"):
+            for signature in signatures(told):
                 word = signature.partition("(")[0]
                 function = getattr(module, word)
                 self.assertEqual(word + str(inspect.signature(function)), signature)
                 self.assertTrue(inspect.isfunction(function))
                 self.assertEqual(function.__module__, module.__name__)
+
+    def test_methods(self):
+        for (name, word), told in METHODS.items():
+            module = importlib.import_module("gentlerounds." + name)
+            kind = getattr(module, word)
+            self.assertEqual(kind.__module__, module.__name__)
+            for signature in signatures(told):
+                method = signature.partition("(")[0]
+                self.assertEqual(method + str(inspect.signature(vars(kind)[method])), signature)
 
 
 if __name__ == "__main__":
