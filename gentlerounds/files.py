@@ -3,7 +3,7 @@
 from gentlerounds.decisions import are_paths, deciding, is_let_by
 from gentlerounds.errors import InvalidFile
 from gentlerounds.limits import are_hours, are_limits
-from gentlerounds.names import check_name, check_path, is_name
+from gentlerounds.names import check_name, is_name
 from gentlerounds.values import is_row
 
 ANYONE = "*"
@@ -89,5 +89,4 @@ def is_let(file, crawler, path):
 def reason(file, crawler, path):
     """Return the pair of the index of the crawler's group and that of the row that decides the path."""
     index = group_of(file, crawler)
-    check_path(path)
     return index, deciding(paths_of(file, crawler), path)

@@ -153,7 +153,7 @@ def tidied_hours(hours):
     """Return the shortest hours that are open at the same moments."""
     check_hours(hours)
     many = len(hours)
-    shorter = [size for size in range(1, many) if many % size == 0 and hours[:size] * (many // size) == hours]
+    shorter = [size for size in range(1, many) if hours[:size] * (many // size) == hours]
     return hours[:min(shorter, default=many)]
 
 

@@ -32,7 +32,7 @@ def room(rules, moment, counts):
 def has_room(rules, moment, counts, many):
     """Tell whether the monitor lets so many asks at the moment."""
     left = room(rules, moment, counts)
-    return many == 0 or left is None or many <= left
+    return left is None or many <= left
 
 
 def shifted(counts, many, moments):
@@ -149,8 +149,7 @@ class Monitor:
     def lets(self, moment, many=1):
         """Tell whether so many asks more are polite at the moment."""
         self._check(moment, many)
-        # No asks more are polite anywhere: those that were made were let already.
-        return many == 0 or has_room(self._rules, moment, self._counts_then(moment), self._asked_then(moment) + many)
+        return has_room(self._rules, moment, self._counts_then(moment), self._asked_then(moment) + many)
 
     def ask(self, moment, many=1):
         """Ask so often at the moment, and stand there."""

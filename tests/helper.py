@@ -41,7 +41,8 @@ def nested(kind, depth):
 def no_tuples():
     """Values of many kinds, none of them a tuple."""
     return [None, True, False, 0, 1, -1, 10 ** 60, "", "/", "a", "/a", "\n", "\u00e9", b"", b"/a", [], ["/a"], [0, 1],
-            [(1, 1)], nested(list, 30), {}, {0: 1}, nested(dict, 30), {1}, frozenset(), Own(), Echo(), Own, len, range(3)]
+            [(1, 1)], nested(list, 30), {}, {0: 1}, nested(dict, 30), {1}, frozenset(), Own(), Echo(), Own, len,
+            range(3)]
 
 
 def any_values():
@@ -170,10 +171,12 @@ def patterns_over(signs, longest):
 
 ALL_LIMITS = [(most, wide) for most in range(1, 7) for wide in range(1, 13)]
 
-NO_LIMITS = ["", ((0, 3),), ((7, 3),), ((1, 0),), ((1, 13),), ((True, 3),), ((1, True),), ((1,),), ((1, 2, 3),), ([1, 2],),
+NO_LIMITS = ["", ((0, 3),), ((7, 3),), ((1, 0),), ((1, 13),), ((True, 3),), ((1, True),), ((1,),), ((1, 2, 3),),
+             ([1, 2],),
              [(1, 2)], (1, 2), ((1, 2),) * 5, ((1, 2), None), ((1, 2), ()), (("1", 2),), ((1, "2"),), ((-1, 3),),
              ((1, 2), (1, 2), (1, 2), (2, 13)), (((1, 2),),), {(1, 2): 1}, ((1, 10 ** 50),)]
-NO_HOURS = ["", (), (0,), (0, 0, 0), (1, 2), (1, -1), (True,), (1, False), (1,) * 13, (0,) * 12, [1], "1", (1, "1"), (1, None),
+NO_HOURS = ["", (), (0,), (0, 0, 0), (1, 2), (1, -1), (True,), (1, False), (1,) * 13, (0,) * 12, [1], "1", (1, "1"),
+            (1, None),
             ((1,),), ((1,), (1,)), b"1", 1, {1: 1}]
 
 

@@ -1,4 +1,7 @@
-"""Runs all tests beside this file and all test_*.py below the folders that are told; a last line tells how many passed."""
+"""Runs all tests beside this file and all test_*.py below the folders that are told.
+
+A last line tells how many passed.
+"""
 
 import pathlib
 import re

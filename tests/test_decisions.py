@@ -5,7 +5,8 @@ from itertools import permutations, product
 from gentlerounds import decisions
 from gentlerounds.errors import InvalidNumber, InvalidPath, InvalidPaths
 from gentlerounds.names import signs_of_paths
-from tests.helper import (any_values, given, indexed, no_numbers, no_tuples, paths_over, refusals, slow_body, slow_meets,
+from tests.helper import (Echo, any_values, given, indexed, no_numbers, no_tuples, paths_over, refusals, slow_body,
+                          slow_meets,
                           tells)
 
 FEW = ("/", "/a", "/a$", "/*a", "/*", "/*$", "/b*a", "/ab", "/*b$", "/a*")
@@ -13,7 +14,8 @@ SHORT = paths_over("-ab", 5)
 MET = {pattern: [slow_meets(pattern, path) for path in SHORT] for pattern in FEW}
 NO_ROWS = any_values() + [(), ("bar",), ("bar", "/", "/"), ["bar", "/"], ("bar", "a"), ("bar", "/A"), ("Bar", "/"),
                           ("", "/"), ("barlet", "/"), (True, "/"), ("let", None), ("/", "let"), (("bar",), "/"),
-                          ("bar", ("/",)), ("let ", "/"), ("ba", "/"), ("bar", "/" + "a" * 12), (b"let", "/"), "bar"]
+                          ("bar", ("/",)), ("let ", "/"), ("ba", "/"), ("bar", "/" + "a" * 12), (b"let", "/"), "bar",
+                          (Echo(), "/"), ("bar", Echo())]
 
 
 def slow_choice(paths, is_met):
@@ -94,7 +96,8 @@ class TestDeciding(unittest.TestCase):
                 self.assertEqual(None if index is None else kept[index], decisions.deciding(rows, path))
 
     def test_longer_ones(self):
-        paths = (("let", "/a*b*c*d"), ("bar", "/abcd"), ("bar", "/" + "a" * 11), ("let", "/" + "a" * 10 + "$"), ("bar", "/*"))
+        paths = (("let", "/a*b*c*d"), ("bar", "/abcd"), ("bar", "/" + "a" * 11), ("let", "/" + "a" * 10 + "$"),
+                 ("bar", "/*"))
         self.assertEqual(decisions.deciding(paths, "/abcd"), 0)
         self.assertEqual(decisions.deciding(paths, "/abc"), 4)
         self.assertEqual(decisions.deciding(paths, "/" + "a" * 10), 3)
@@ -189,7 +192,8 @@ class TestTables(unittest.TestCase):
             for place, pair in enumerate(table):
                 self.assertIs(decisions.takes_path_table(one, two, table[:place] + table[place + 1:]), False)
                 for changed in (pair[::-1], pair[:1], pair + pair[:1], list(pair), (list(pair[0]), pair[1]), None,
-                                (pair[0] + ((),), pair[1]), (pair[0], pair[1] + ((1,),)), (pair[0][1:], pair[1] + pair[0][:1])):
+                                (pair[0] + ((),), pair[1]), (pair[0], pair[1] + ((1,),)),
+                                (pair[0][1:], pair[1] + pair[0][:1])):
                     if changed != pair:
                         self.assertIs(decisions.takes_path_table(one, two, table + (changed,)), False, changed)
                     if changed not in table:
@@ -224,7 +228,8 @@ class TestTables(unittest.TestCase):
     def test_places_out_of_order_or_bounds(self):
         one, two = (("bar", "/a*"),), (("bar", "/a"),)
         table = decisions.path_table(one, two)
-        for places in ((0,), (5,), (0, 1), (4, 5), (2, 1), (1, 1), (True,), (2, 3, 3), (None,), ("1",), [1], ((1,),), 1, None,
+        for places in ((0,), (5,), (0, 1), (4, 5), (2, 1), (1, 1), (True,), (2, 3, 3), (None,), ("1",), [1], ((1,),),
+                       1, None,
                        "1", b"1", (-1,), (1, 2, 3, 4, 5), range(2)):
             self.assertIs(decisions.takes_path_table(one, two, table + (((places,), ((),)),)), False, places)
         for places in ((4,), (5,), (0,), (3, 2)):
@@ -233,9 +238,28 @@ class TestTables(unittest.TestCase):
         self.assertIs(decisions.takes_path_table(one, two, table + ((((4,),), ((3,),)),)), True)
         self.assertIs(decisions.takes_path_table(one, two, table + ((((1, 4),), ((1, 3),)),)), False)
 
+    def test_places_told_out_of_order_or_twice(self):
+        for one, two, table in self.tables():
+            for pair in table:
+                for side, standing in enumerate(pair):
+                    for at, places in enumerate(standing):
+                        for changed in (places[::-1], places + places, places[:1] + places, places + places[-1:]):
+                            if changed != places:
+                                value = put(pair, side, put(standing, at, changed))
+                                self.assertIs(decisions.takes_path_table(one, two, table + (value,)), False, value)
+
+    def test_places_beside_the_bounds(self):
+        one, two = (("bar", "/a*"),), (("bar", "/a"),)
+        table = decisions.path_table(one, two)
+        # With 0 as a place this pair would lead to others of the table alone, and both let there.
+        self.assertIs(decisions.takes_path_table(one, two, table + ((((0,),), ((0,),)),)), False)
+        self.assertIs(decisions.takes_path_table(one, two, table + ((((1,),), ((),)), (((2, 3, 4),), ((),)))), False)
+        self.assertIs(decisions.takes_path_table(one, two, table + ((((),), ((4,),)),)), False)
+
     def test_tables_of_parted_rows(self):
         one, two = (("bar", "/a"),), (("bar", "/b"),)
-        full = [(((1,),), ((1,),)), (((2, 3),), ((),)), (((3,),), ((),)), (((),), ((2, 3),)), (((),), ((3,),)), (((),), ((),))]
+        full = [(((1,),), ((1,),)), (((2, 3),), ((),)), (((3,),), ((),)), (((),), ((2, 3),)), (((),), ((3,),)),
+                (((),), ((),))]
         self.assertIs(decisions.takes_path_table(one, two, tuple(full)), False)
         self.assertIs(decisions.takes_path_table(one, (), tuple((pair[0], ()) for pair in full)), False)
         self.assertIs(decisions.takes_path_table((("let", "/a"),), (), tuple((pair[0], ()) for pair in full)), True)
@@ -272,7 +296,8 @@ class TestErrors(unittest.TestCase):
             refusals(self, call, [("paths", self.STARS)], {"paths": wrong})
         for call in (decisions.deciding, decisions.is_let_by):
             refusals(self, call, [("paths", self.STARS), ("path", "/a")], {"paths": wrong, "path": ways})
-        refusals(self, decisions.first_decided, [("paths", self.STARS), ("index", 5)], {"paths": wrong, "index": places})
+        refusals(self, decisions.first_decided, [("paths", self.STARS), ("index", 5)],
+                 {"paths": wrong, "index": places})
         for call in (decisions.parting_path, decisions.are_alike_paths, decisions.path_table):
             refusals(self, call, [("paths", self.STARS), ("other", ())], {"paths": wrong, "other": wrong})
         refusals(self, decisions.takes_path_table, [("paths", self.STARS), ("other", ()), ("value", None)],

@@ -7,7 +7,8 @@ from tests.helper import any_values, given, indexed, no_hours, no_limits, no_tup
 
 PATHS = (("bar", "/"), ("let", "/a"), ("bar", "/*b$"))
 NAMES = ("a", "ab", "abc", "abcd", "b", "ba", "bb", "c", "abcdefghijkl", "*")
-CRAWLERS = ("a", "ab", "abb", "abc", "abcde", "abcdefghijkl", "abcdefghijk", "b", "ba", "bab", "bb", "c", "cc", "d", "z", "aa")
+CRAWLERS = ("a", "ab", "abb", "abc", "abcde", "abcdefghijkl", "abcdefghijk", "b", "ba", "bab", "bb", "c", "cc", "d",
+            "z", "aa")
 
 
 def group(*names, paths=(), limits=(), hours=(1,)):
@@ -31,7 +32,8 @@ def some_file(source):
     for index in range(source.randint(0, 4)):
         told = tuple(names.pop() for _ in range(source.randint(1, 3)) if names)
         if told:
-            groups.append((told, PATHS[:index] if source.random() < 0.7 else PATHS[::-1], ((index + 1, 5),), (1,) + (0,) * index))
+            groups.append((told, PATHS[:index] if source.random() < 0.7 else PATHS[::-1], ((index + 1, 5),),
+                           (1,) + (0,) * index))
     return tuple(groups)
 
 
@@ -54,10 +56,12 @@ class TestGroups(unittest.TestCase):
 
     def test_names_that_begin_one_another(self):
         file = (group("*", "ab"), group("a", paths=PATHS), group("abc", "b"))
-        for crawler, index in (("ab", 0), ("abb", 0), ("abc", 2), ("abcd", 2), ("a", 1), ("ac", 1), ("b", 2), ("c", 0), ("z", 0)):
+        for crawler, index in (("ab", 0), ("abb", 0), ("abc", 2), ("abcd", 2), ("a", 1), ("ac", 1), ("b", 2), ("c", 0),
+                               ("z", 0)):
             self.assertEqual(files.group_of(file, crawler), index)
             self.assertEqual(files.group_of(file[::-1], crawler), 2 - index)
-        self.assertEqual([files.group_of(file[1:], crawler) for crawler in ("c", "a", "ab", "b", "abc")], [None, 0, 0, 1, 1])
+        self.assertEqual([files.group_of(file[1:], crawler) for crawler in ("c", "a", "ab", "b", "abc")],
+                         [None, 0, 0, 1, 1])
         self.assertEqual(files.group_of((), "a"), None)
         self.assertEqual(files.group_of((group("abcd"), group("abcde")), "abc"), None)
 
@@ -76,11 +80,14 @@ class TestGroups(unittest.TestCase):
 
 class TestFiles(unittest.TestCase):
     GOOD = (group("a", "ab", "*", paths=PATHS), group("b", limits=((1, 2),) * 4), group("c", hours=(0, 1)), group("d"))
-    BAD = [((), (), (), (1,)), (("e", "f", "g", "h"), (), (), (1,)), ("e", (), (), (1,)), (["e"], (), (), (1,)), (("e",), (), ()),
-           (("e",), (), (), (1,), ()), [("e",), (), (), (1,)], (("e",), [], (), (1,)), (("E",), (), (), (1,)), (("",), (), (), (1,)),
+    BAD = [((), (), (), (1,)), (("e", "f", "g", "h"), (), (), (1,)), ("e", (), (), (1,)), (["e"], (), (), (1,)),
+           (("e",), (), ()),
+           (("e",), (), (), (1,), ()), [("e",), (), (), (1,)], (("e",), [], (), (1,)), (("E",), (), (), (1,)),
+           (("",), (), (), (1,)),
            (("**",), (), (), (1,)), (("e*",), (), (), (1,)), (("e" * 13,), (), (), (1,)), (("e", None), (), (), (1,)),
            (("e", "e"), (), (), (1,)), (("*", "e", "*"), (), (), (1,)), (("e",), (("bar", "a"),), (), (1,)),
-           (("e",), (("bar", "/"),) * 7, (), (1,)), (("e",), (("bar", "/***"), ("bar", "/**")), (), (1,)), (("e",), (), (1,), ()),
+           (("e",), (("bar", "/"),) * 7, (), (1,)), (("e",), (("bar", "/***"), ("bar", "/**")), (), (1,)),
+           (("e",), (), (1,), ()),
            (("e",), (), (1,), (1,)), ((b"e",), (), (), (1,)), ((("e",),), (), (), (1,)), ((True,), (), (), (1,))]
 
     def bad_groups(self):
@@ -88,10 +95,13 @@ class TestFiles(unittest.TestCase):
         return self.BAD + any_values() + more + [((value,), (), (), (1,)) for value in any_values()]
 
     def rows(self):
-        rows = [((value,), 0) for value in self.bad_groups()] + [(self.GOOD[:2] + (value,) + self.GOOD[3:], 2) for value in self.bad_groups()]
         good = self.GOOD
-        return rows + [(good + (group("e"),), None), ((1,) * 5, None), ((good[0], group("b", "ab")), 1), ((good[0], group("*")), 1),
-                       ((good[1], good[2], good[0], group("e", "c")), 3), ((good[1], good[1], None), 1), ((good[1], None, good[1]), 1),
+        rows = [((value,), 0) for value in self.bad_groups()]
+        rows += [(good[:2] + (value,) + good[3:], 2) for value in self.bad_groups()]
+        return rows + [(good + (group("e"),), None), ((1,) * 5, None), ((good[0], group("b", "ab")), 1),
+                       ((good[0], group("*")), 1),
+                       ((good[1], good[2], good[0], group("e", "c")), 3), ((good[1], good[1], None), 1),
+                       ((good[1], None, good[1]), 1),
                        ((good[3], group("d", "d")), 1)]
 
     def test_files(self):
@@ -104,7 +114,8 @@ class TestFiles(unittest.TestCase):
             self.assertIs(files.is_file(value), False, repr(value))
 
     def test_errors(self):
-        wrong = {"file": indexed(InvalidFile, self.rows()), "crawler": given(InvalidName, any_values() + ["", "A", "*", "a" * 13, b"a", 1]),
+        wrong = {"file": indexed(InvalidFile, self.rows()),
+                 "crawler": given(InvalidName, any_values() + ["", "A", "*", "a" * 13, b"a", 1]),
                  "path": given(InvalidPath, any_values() + ["", "a", "/*", "/a$", b"/a", 1])}
         for call in (files.group_of, files.paths_of, files.rules_of):
             refusals(self, call, [("file", self.GOOD), ("crawler", "abc")], wrong)

@@ -3,12 +3,14 @@ import unittest
 from itertools import product
 
 from gentlerounds import limits
-from gentlerounds.errors import (InvalidAsks, InvalidHours, InvalidLimits, InvalidNumber, InvalidRules, NotPolite, TooMany)
+from gentlerounds.errors import (InvalidAsks, InvalidHours, InvalidLimits, InvalidNumber, InvalidRules, NotPolite,
+                                 TooMany)
 from tests.helper import (ALL_LIMITS, ask_rows, given, indexed, no_asks, no_hours, no_limits, no_numbers, no_rules,
                           refusals, slow_polite, some_hours, some_limits, tells)
 
 ALWAYS = (1,)
-SMALL = [(), ((1, 1),), ((1, 2),), ((2, 3),), ((1, 3),), ((2, 2), (3, 4)), ((3, 4), (1, 2)), ((2, 4), (1, 1)), ((3, 3),),
+SMALL = [(), ((1, 1),), ((1, 2),), ((2, 3),), ((1, 3),), ((2, 2), (3, 4)), ((3, 4), (1, 2)), ((2, 4), (1, 1)),
+         ((3, 3),),
          ((2, 3), (2, 3)), ((1, 2), (2, 5), (3, 7)), ((3, 2), (2, 4), (1, 1), (3, 3))]
 HOURS = [(1,), (0, 1), (1, 0), (1, 1, 0), (0, 0, 1), (1, 0, 0, 1, 0)]
 
@@ -192,14 +194,17 @@ class TestTidied(unittest.TestCase):
         source = random.Random(11)
         rows = [(some_limits(source, 2, 4, 3), some_limits(source, 2, 4, 3)) for _ in range(80)]
         for one, two in rows:
-            alike = all(slow_polite((one, ALWAYS), asks) == slow_polite((two, ALWAYS), asks) for asks in ask_rows(range(5), 3))
+            alike = all(slow_polite((one, ALWAYS), asks) == slow_polite((two, ALWAYS), asks)
+                        for asks in ask_rows(range(5), 3))
             self.assertIs(limits.most_table(one) == limits.most_table(two), alike, (one, two))
             self.assertIs(limits.tidied(one) == limits.tidied(two), alike, (one, two))
 
     def test_by_hand(self):
-        for pairs, told in (((), ()), (((1, 1),), ((1, 1),)), (((6, 12), (5, 12)), ((5, 12),)), (((2, 4), (1, 2)), ((1, 2),)),
+        for pairs, told in (((), ()), (((1, 1),), ((1, 1),)), (((6, 12), (5, 12)), ((5, 12),)),
+                            (((2, 4), (1, 2)), ((1, 2),)),
                             (((2, 5), (1, 2)), ((1, 2), (2, 5))), (((6, 1),), ((6, 1),)), (((4, 4), (2, 2)), ((2, 2),)),
-                            (((3, 12), (3, 11)), ((3, 12),)), (((6, 12), (1, 2)), ((1, 2),)), (((5, 12), (1, 2)), ((1, 2), (5, 12))),
+                            (((3, 12), (3, 11)), ((3, 12),)), (((6, 12), (1, 2)), ((1, 2),)),
+                            (((5, 12), (1, 2)), ((1, 2), (5, 12))),
                             (((4, 12), (3, 9), (2, 6), (1, 2)), ((1, 2), (2, 6), (3, 9))),
                             (((4, 12), (3, 8), (2, 5), (1, 2)), ((1, 2), (2, 5), (3, 8), (4, 12)))):
             self.assertEqual(limits.tidied(pairs), told)
@@ -278,6 +283,11 @@ class TestErrors(unittest.TestCase):
                  [({"asks": (0, 0, 4)}, NotPolite, 1), ({"asks": (2,)}, NotPolite, 0)])
         refusals(self, limits.most_from, [("rules", self.PAIR), ("moment", 5), ("moments", 100)],
                  {"rules": pairs, "moment": moments, "moments": many})
+
+    def test_no_moment_behind_no_asks(self):
+        for moment in no_numbers(0):
+            tells(self, InvalidNumber, moment, lambda: limits.may_ask(self.PAIR, (), moment))
+        self.assertEqual(limits.soonest(self.PAIR, (), 3), (0, 1, 3))
 
     def test_soonest_takes_since_by_name_alone(self):
         self.assertRaises(TypeError, limits.soonest, self.PAIR, (), 1, 0)

@@ -3,7 +3,8 @@ import unittest
 from itertools import product
 
 from gentlerounds import limits, monitors
-from gentlerounds.errors import Barred, CrawlError, InvalidAsks, InvalidCounts, InvalidLimits, InvalidNumber, InvalidRules, NotPolite
+from gentlerounds.errors import (Barred, CrawlError, InvalidAsks, InvalidCounts, InvalidLimits, InvalidNumber,
+                                 InvalidRules, NotPolite)
 from gentlerounds.monitors import Monitor
 from tests.helper import (any_values, given, indexed, no_asks, no_limits, no_numbers, no_rules, no_tuples, refusals,
                           slow_polite, some_hours, some_limits, tells)
@@ -51,7 +52,8 @@ class TestCounts(unittest.TestCase):
     def test_no_counts(self):
         pairs = ((2, 3), (3, 5))
         for value in no_tuples() + any_values() + [
-                (), (0,), (0,) * 3, (0,) * 5, [0] * 4, (0, 0, 0, -1), (0, 0, 0, True), (False, 0, 0, 0), (0, 0, 0, None),
+                (), (0,), (0,) * 3, (0,) * 5, [0] * 4, (0, 0, 0, -1), (0, 0, 0, True), (False, 0, 0, 0),
+                (0, 0, 0, None),
                 (0, 0, 0, "0"), (0, 0, 0, (0,)), (0, 0, 0, 10 ** 60), (-1, 1, 0, 0), (3, -1, 0, 0), "0000", b"0000"]:
             self.assertIs(monitors.are_counts(pairs, value), False, repr(value))
             if value != ():
@@ -120,13 +122,17 @@ class TestCounts(unittest.TestCase):
     def test_errors(self):
         pair, pairs = (((2, 3), (3, 5)), (1, 1, 0)), given(InvalidRules, no_rules())
         counts = given(InvalidCounts, no_tuples() + any_values() + [
-            (), (0,), (0,) * 3, (0,) * 5, [0] * 4, (0, 0, 0, -1), (0, 0, 0, True), (2, 1, 0, 0), (0, 0, 0, 3), (1, 1, 1, 0)])
+            (), (0,), (0,) * 3, (0,) * 5, [0] * 4, (0, 0, 0, -1), (0, 0, 0, True), (2, 1, 0, 0), (0, 0, 0, 3),
+            (1, 1, 1, 0)])
         moments, many = given(InvalidNumber, no_numbers(0)), given(InvalidNumber, no_numbers(0, 100))
-        refusals(self, monitors.are_counts, [("limits", ((2, 3),)), ("value", (0, 0))], {"limits": given(InvalidLimits, no_limits())})
+        refusals(self, monitors.are_counts, [("limits", ((2, 3),)), ("value", (0, 0))],
+                 {"limits": given(InvalidLimits, no_limits())})
         refusals(self, monitors.counts_at, [("rules", pair), ("asks", (0, 3)), ("moment", 4)],
                  {"rules": pairs, "asks": indexed(InvalidAsks, no_asks()),
                   "moment": moments + [(3, InvalidNumber, 3), (0, InvalidNumber, 0)]},
                  last=[({"asks": (0, 0, 1, 3)}, NotPolite, 2), ({"asks": (2, 3)}, NotPolite, 0)])
+        for moment in no_numbers(0):
+            tells(self, InvalidNumber, moment, lambda: monitors.counts_at(pair, (), moment))
         good = [("rules", pair), ("moment", 4), ("counts", (1, 0, 0, 1))]
         wrong = {"rules": pairs, "moment": moments, "counts": counts, "many": many}
         refusals(self, monitors.most_now, good, wrong)
@@ -236,7 +242,8 @@ class TestMonitor(unittest.TestCase):
         monitor.ask(3)
         monitor.ask(4)
         before = self.state(monitor)
-        for args in ((2,), (3,), (-1,), (None,), (True,), ("4",), (4, -1), (4, 101), (4, None), (4, True), (4,), (5,), (5, 1), (6, 3)):
+        for args in ((2,), (3,), (-1,), (None,), (True,), ("4",), (4, -1), (4, 101), (4, None), (4, True), (4,), (5,),
+                     (5, 1), (6, 3)):
             self.assertRaises(CrawlError, monitor.ask, *args)
             self.assertEqual(self.state(monitor), before)
         self.assertIs(monitor.undo(), True)

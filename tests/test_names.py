@@ -38,7 +38,8 @@ class TestPaths(unittest.TestCase):
             self.assertIs(names.is_path(sign + "/"), sign == "/")
 
     def test_values_beside_paths(self):
-        for value in any_values() + ["", "a", "a/", "/*", "/a$", "/A", " /", "/ ", "/\n", b"/", ["/"], ("/",), ("/", "a"), 1]:
+        for value in any_values() + ["", "a", "a/", "/*", "/a$", "/A", " /", "/ ", "/\n", b"/", ["/"], ("/",),
+                                     ("/", "a"), 1]:
             self.assertIs(names.is_path(value), False)
         for path in ("/", "//", "/" * 13, "/a.b-c_9", "/" + "a" * 19999):
             self.assertIs(names.is_path(path), True)

@@ -6,7 +6,8 @@ from gentlerounds.errors import InvalidPath, InvalidPattern, InvalidPatterns
 from tests.helper import (any_values, fits, given, indexed, paths_over, patterns_over, refusals, slow_body,
                           slow_meets)
 
-NO_PATTERNS = any_values() + ["", "a", "$", "*", "a/", "/$a", "/$$", "/$*", "/a$b", "/A", "/ a", "/a\n", "/\u00e9", "/#",
+NO_PATTERNS = any_values() + ["", "a", "$", "*", "a/", "/$a", "/$$", "/$*", "/a$b", "/A", "/ a", "/a\n", "/\u00e9",
+                              "/#",
                               "/%", "/?", "/+", "/" + "a" * 12, "/" + "*" * 12, "/" + "a" * 11 + "$", b"/a", ["/"], 1]
 NO_PATHS = any_values() + ["", "a", "/*", "/a$", "/A", b"/a"]
 
@@ -51,7 +52,8 @@ class TestPatterns(unittest.TestCase):
             refusals(self, call, [("pattern", "/a*"), ("path", "/ab")], {"pattern": wrong, "path": ways})
         for call in (patterns.covers, patterns.are_apart):
             refusals(self, call, [("pattern", "/a*"), ("other", "/ab")], {"pattern": wrong, "other": wrong})
-        refusals(self, patterns.next_places, [("pattern", "/a*"), ("places", (2, 3)), ("sign", "b")], {"pattern": wrong})
+        refusals(self, patterns.next_places, [("pattern", "/a*"), ("places", (2, 3)), ("sign", "b")],
+                 {"pattern": wrong})
 
     def test_errors_of_least_path(self):
         rows = [(("/a", value), 1) for value in NO_PATTERNS] + [((value,), 0) for value in NO_PATTERNS]
@@ -169,7 +171,8 @@ class TestLeastPath(unittest.TestCase):
                 ((), ("/$", "/-", "/.", "//", "/0", "/1"), "/2"), (("/z",), ("/z$",), "/z-"),
                 (("/z",), ("/z$", "/z-"), "/z."), (("/*z$",), ("/z$", "/-"), "/.z"), (("/*b",), ("/b$",), "/-b"),
                 (("/*_",), ("/_",), "/-_"), (("/*a", "/*9"), (), "/9a"), (("/*.", "/*-"), (), "/-."),
-                (("/*aba", "/*bab"), ("/a",), "/baba"), (("/*a$", "/*-$"), (), None), (("/a*b*c",), ("/abc",), "/a-bc")):
+                (("/*aba", "/*bab"), ("/a",), "/baba"), (("/*a$", "/*-$"), (), None),
+                (("/a*b*c",), ("/abc",), "/a-bc")):
             self.assertEqual(patterns.least_path(met, unmet), path)
             self.assertEqual(patterns.least_path(met, unmet), path)
 

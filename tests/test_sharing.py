@@ -10,7 +10,8 @@ from tests.helper import (ALL_LIMITS, any_values, ask_rows, given, indexed, no_l
 ALWAYS = (1,)
 HOURS = [(1,), (1, 0), (0, 1), (1, 1, 0), (0, 0, 1), (1, 0, 1)]
 PAIRS = [(), ((1, 1),), ((1, 2),), ((2, 3),), ((1, 4),), ((2, 4), (1, 2)), ((2, 2),), ((2, 4), (1, 1)), ((2, 1),)]
-CREWS = [(((1, 1),), 0), (((1, 1),), 2), (((1, 2),), 0), (((1, 2),), 1), (((2, 3),), 0), (((2, 3),), 2), (((1, 3), (2, 2)), 1)]
+CREWS = [(((1, 1),), 0), (((1, 1),), 2), (((1, 2),), 0), (((1, 2),), 1), (((2, 3),), 0), (((2, 3),), 2),
+         (((1, 3), (2, 2)), 1)]
 
 
 def slow_row(part, row):
@@ -32,10 +33,11 @@ def all_rows(part, moments, longest):
 class TestStricter(unittest.TestCase):
     @classmethod
     def setUpClass(cls):
-        # One row at most three asks long, below moment 7, parts any two of these rules that are parted at all.
+        # Where any asks part two of these rules, some of at most three asks below moment 7 do.
         cls.asks = ask_rows(range(7), 3)
         cls.rules = list(product(PAIRS, HOURS))
-        cls.polite = {pair: sum(1 << at for at, row in enumerate(cls.asks) if slow_polite(pair, row)) for pair in cls.rules}
+        cls.polite = {pair: sum(1 << at for at, row in enumerate(cls.asks) if slow_polite(pair, row))
+                      for pair in cls.rules}
 
     def test_against_all_small_rows(self):
         for one in self.rules:
@@ -89,7 +91,8 @@ class TestStricter(unittest.TestCase):
         one, two = (((2, 3),), (1, 0)), (((1, 1),), ALWAYS)
         for call in (sharing.is_stricter, sharing.loose_row, sharing.are_alike_rules):
             refusals(self, call, [("rules", one), ("other", two)], {"rules": wrong, "other": wrong})
-        refusals(self, sharing.are_alike_limits, [("limits", one[0]), ("other", two[0])], {"limits": pairs, "other": pairs})
+        refusals(self, sharing.are_alike_limits, [("limits", one[0]), ("other", two[0])],
+                 {"limits": pairs, "other": pairs})
 
 
 class TestKeep(unittest.TestCase):
@@ -100,7 +103,8 @@ class TestKeep(unittest.TestCase):
         for part in CREWS:
             rows = list(all_rows(part, range(6), 4))
             for start, wide in product(range(4), (1, 2)):
-                cls.most[part, start, wide] = max(sum(1 for _, come in row if start <= come < start + wide) for row in rows)
+                cls.most[part, start, wide] = max(sum(1 for _, come in row if start <= come < start + wide)
+                                                  for row in rows)
 
     def test_against_all_rows(self):
         for crews in [(one,) for one in CREWS] + list(product(CREWS, CREWS)) + [(one, one, CREWS[3]) for one in CREWS]:
@@ -130,7 +134,8 @@ class TestKeep(unittest.TestCase):
         source = random.Random(17)
         told = {True: 0, False: 0}
         for _ in range(400):
-            crews = tuple((some_limits(source, 3, 12, 3), source.choice((0, 1, 5, 24))) for _ in range(source.randint(1, 4)))
+            crews = tuple((some_limits(source, 3, 12, 3), source.choice((0, 1, 5, 24)))
+                          for _ in range(source.randint(1, 4)))
             shared = some_limits(source, 6, 6, 2)
             sums = [[limits.most(pairs, wide + late) for pairs, late in crews] for _, wide in shared]
             kept = all(None not in row and sum(row) <= most for row, (most, _) in zip(sums, shared))
@@ -153,7 +158,8 @@ class TestKeep(unittest.TestCase):
         self.assertEqual(sharing.arrivals(crews, ((), ())), ())
         self.assertEqual(sharing.arrivals(crews, (((5, 6), (7, 7)), ((0, 0), (0, 0), (6, 6)))), (0, 0, 6, 6, 7))
         self.assertEqual(sharing.arrivals((((), 24),), (((0, 24),) * 200,)), (24,) * 200)
-        for late, come, right in ((0, 3, True), (0, 4, False), (0, 2, False), (1, 4, True), (1, 5, False), (24, 27, True), (24, 28, False)):
+        for late, come, right in ((0, 3, True), (0, 4, False), (0, 2, False), (1, 4, True), (1, 5, False),
+                                  (24, 27, True), (24, 28, False)):
             row = ((3, come),)
             if right:
                 self.assertEqual(sharing.arrivals(((((1, 2),), late),), (row,)), (come,))
@@ -185,7 +191,8 @@ class TestDealt(unittest.TestCase):
         source = random.Random(19)
         found = set()
         for _ in range(300):
-            pairs, shared, late = some_limits(source, 2, 12, 2), some_limits(source, 6, 6, 2), source.choice((0, 1, 3, 24))
+            pairs, shared = some_limits(source, 2, 12, 2), some_limits(source, 6, 6, 2)
+            late = source.choice((0, 1, 3, 24))
             told = sharing.most_crawlers(pairs, late, shared)
             found.add(told)
             for many in range(1, 7):
@@ -203,21 +210,27 @@ class TestDealt(unittest.TestCase):
 
 
 class TestErrors(unittest.TestCase):
-    NO_PARTS = any_values() + [(), ((),), (((1, 2),), 1, 1), [((1, 2),), 1], (((1, 2),), -1), (((1, 2),), 25), (((1, 2),), True),
-                               (((1, 2),), None), (((1, 2),), "1"), (((0, 2),), 1), (1, ((1, 2),)), (((1, 2),) * 5, 1), (None, 1),
+    NO_PARTS = any_values() + [(), ((),), (((1, 2),), 1, 1), [((1, 2),), 1], (((1, 2),), -1), (((1, 2),), 25),
+                               (((1, 2),), True),
+                               (((1, 2),), None), (((1, 2),), "1"), (((0, 2),), 1), (1, ((1, 2),)), (((1, 2),) * 5, 1),
+                               (None, 1),
                                ([(1, 2)], 1), (((1, 2),), (1,)), 1]
     GOOD = ((((2, 3),), 2), ((), 24))
 
     def wrong_parts(self):
-        rows = [((value,), 0) for value in self.NO_PARTS] + [(self.GOOD + (value,) + self.GOOD, 2) for value in self.NO_PARTS]
+        rows = [((value,), 0) for value in self.NO_PARTS] + [(self.GOOD + (value,) + self.GOOD, 2)
+                                                             for value in self.NO_PARTS]
         return indexed(InvalidParts, rows + [((), None), (self.GOOD * 4, None), ((1,) * 7, None)])
 
     def wrong_rows(self):
         first = [(), ((0, 0),), ((3, 5), (5, 5)), ((0, 2), (0, 2), (3, 3))]
-        bad = any_values() + ["1", 1, ((0, 0), None), ((0,),), ((0, 0, 0),), ([0, 0],), ((0, 3),), ((1, 0),), ((-1, 0),), ((-1, -1),),
-                              ((True, 1),), ((0, True),), ((0, None),), (("0", 0),), ((0, 0), (0, 0), (2, 2)), ((3, 5), (3, 4)),
+        bad = any_values() + ["1", 1, ((0, 0), None), ((0,),), ((0, 0, 0),), ([0, 0],), ((0, 3),), ((1, 0),),
+                              ((-1, 0),), ((-1, -1),),
+                              ((True, 1),), ((0, True),), ((0, None),), (("0", 0),), ((0, 0), (0, 0), (2, 2)),
+                              ((3, 5), (3, 4)),
                               ((3, 3), (2, 4)), ((0, 0), (1, 0)), [(0, 0)], (0, 0)]
-        rows = [((value, ()), 0) for value in bad] + [((row, value), 1) for row in first for value in any_values() + [((0, 25),)]]
+        rows = [((value, ()), 0) for value in bad] + [((row, value), 1) for row in first
+                                                      for value in any_values() + [((0, 25),)]]
         rows += [((((0, 0),), ((0, 0),) * 201), 1), ((), None), (((),), None), (((), (), ()), None)]
         for row in first:
             self.assertEqual(len(sharing.arrivals(self.GOOD, (row, row))), 2 * len(row))
@@ -226,7 +239,8 @@ class TestErrors(unittest.TestCase):
     def test_errors_of_parts(self):
         pairs = given(InvalidLimits, no_limits())
         for call in (sharing.keep, sharing.breaking):
-            refusals(self, call, [("parts", self.GOOD), ("shared", ((2, 3),))], {"parts": self.wrong_parts(), "shared": pairs})
+            refusals(self, call, [("parts", self.GOOD), ("shared", ((2, 3),))],
+                     {"parts": self.wrong_parts(), "shared": pairs})
         refusals(self, sharing.arrivals, [("parts", self.GOOD), ("rows", ((), ((0, 0),) * 200))],
                  {"parts": self.wrong_parts(), "rows": self.wrong_rows()})
 

@@ -31,7 +31,8 @@ class TestNumbers(unittest.TestCase):
         self.assertIs(values.is_fraction((2 * big, 2)), False)
 
     def test_no_fractions(self):
-        for value in any_values() + no_tuples() + [(), (1,), (1, 1, 1), [1, 2], (True, 1), (1, True), (False, 1), (1, None),
+        for value in any_values() + no_tuples() + [(), (1,), (1, 1, 1), [1, 2], (True, 1), (1, True), (False, 1),
+                                                   (1, None),
                                                    ("1", 1), (1, "2"), ((1,), 2), (1, (2, 1)), (0, 0), "12"]:
             self.assertIs(values.is_fraction(value), False)
         self.assertIs(values.is_fraction((0, 1)), True)
