@@ -146,7 +146,7 @@ def are_places(bodies, value):
     """Tell whether a value has for each of the bodies an ascending tuple of numbers from 1 up to its length."""
     if not is_row(value, len(bodies), len(bodies)):
         return False
-    return all(is_ascending(row, len(body)) for body, row in zip(bodies, value))
+    return all([is_ascending(row, len(body)) for body, row in zip(bodies, value)])
 
 
 def is_ascending(value, high):

@@ -18,7 +18,7 @@ def fit(limits, value):
     if not is_row(value, span, span) or not all(is_whole(many) and many >= 0 for many in value):
         return False
     # A window cut short at the end asks less than the whole one ahead of it, or it is all counts together.
-    return all(sum(value[at:at + wide]) <= most for most, wide in limits for at in range(span))
+    return all([sum(value[at:at + wide]) <= most for most, wide in limits for at in range(span)])
 
 
 def room(rules, moment, counts):
