@@ -5,14 +5,14 @@ from gentlerounds.errors import InvalidPaths
 from gentlerounds.names import check_path
 from gentlerounds.patterns import MOST_STARS, body_of, is_pattern
 from gentlerounds.standings import Machine, walked
-from gentlerounds.values import is_between, is_row
+from gentlerounds.values import is_between, is_tuple
 
 MOST_PATHS = 6
 
 
 def is_path_row(value):
     """Tell whether a value is a pair of a word and a pattern."""
-    if not is_row(value, 2, 2):
+    if not is_tuple(value, 2, 2):
         return False
     word, pattern = value
     return isinstance(word, str) and word in ("bar", "let") and is_pattern(pattern)
@@ -20,7 +20,7 @@ def is_path_row(value):
 
 def fault_in_paths(value):
     """Return () for PATHS, otherwise a tuple of the index that InvalidPaths tells."""
-    if not is_row(value, 0, MOST_PATHS):
+    if not is_tuple(value, 0, MOST_PATHS):
         return (None,)
     stars = 0
     for index, row in enumerate(value):
@@ -133,7 +133,7 @@ class Pairing:
 
     def number_of(self, value):
         """Return the standing that a pair of standings tells, whatever the value is; None for no such pair."""
-        if not is_row(value, 2, 2):
+        if not is_tuple(value, 2, 2):
             return None
         first, second = value
         bodies = self.machine.bodies
@@ -144,14 +144,14 @@ class Pairing:
 
 def are_places(bodies, value):
     """Tell whether a value has for each of the bodies an ascending tuple of numbers from 1 up to its length."""
-    if not is_row(value, len(bodies), len(bodies)):
+    if not is_tuple(value, len(bodies), len(bodies)):
         return False
     return all([is_ascending(row, len(body)) for body, row in zip(bodies, value)])
 
 
 def is_ascending(value, high):
     """Tell whether a value is an ascending tuple of whole numbers from 1 up to high."""
-    if not is_row(value, 0, high):
+    if not is_tuple(value, 0, high):
         return False
     least = 1
     for place in value:

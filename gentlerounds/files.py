@@ -4,7 +4,7 @@ from gentlerounds.decisions import are_paths, deciding, is_let_by
 from gentlerounds.errors import InvalidFile
 from gentlerounds.limits import are_hours, are_limits
 from gentlerounds.names import check_name, is_name
-from gentlerounds.values import is_row
+from gentlerounds.values import is_tuple
 
 ANYONE = "*"
 MOST_GROUPS = 4
@@ -18,17 +18,17 @@ def is_caller(value):
 
 def is_group(value):
     """Tell whether a value is a group, by itself."""
-    if not is_row(value, 4, 4):
+    if not is_tuple(value, 4, 4):
         return False
     names, paths, limits, hours = value
-    if not is_row(names, 1, MOST_NAMES) or not all(is_caller(name) for name in names):
+    if not is_tuple(names, 1, MOST_NAMES) or not all(is_caller(name) for name in names):
         return False
     return are_paths(paths) and are_limits(limits) and are_hours(hours)
 
 
 def fault_in_file(value):
     """Return () for a file, otherwise a tuple of the index that InvalidFile tells."""
-    if not is_row(value, 0, MOST_GROUPS):
+    if not is_tuple(value, 0, MOST_GROUPS):
         return (None,)
     told = {}
     for index, group in enumerate(value):

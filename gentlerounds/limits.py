@@ -5,7 +5,7 @@ from gentlerounds.asking import most_between, most_within, tidied_pairs
 from gentlerounds.checks import check_between, check_from
 from gentlerounds.errors import InvalidAsks, InvalidHours, InvalidLimits, InvalidNumber, InvalidRules
 from gentlerounds.errors import NotPolite, TooMany
-from gentlerounds.values import is_between, is_row, is_whole
+from gentlerounds.values import is_between, is_tuple, is_whole
 
 MOST_PAIRS = 4
 LONGEST_ROW = 200
@@ -14,22 +14,22 @@ MOST_MOMENTS = 100
 
 def is_limit(value):
     """Tell whether a value is a pair of LIMITS."""
-    return is_row(value, 2, 2) and is_between(value[0], 1, MOST_ASKS) and is_between(value[1], 1, WIDEST)
+    return is_tuple(value, 2, 2) and is_between(value[0], 1, MOST_ASKS) and is_between(value[1], 1, WIDEST)
 
 
 def are_limits(value):
     """Tell whether a value is LIMITS."""
-    return is_row(value, 0, MOST_PAIRS) and all(is_limit(pair) for pair in value)
+    return is_tuple(value, 0, MOST_PAIRS) and all(is_limit(pair) for pair in value)
 
 
 def are_hours(value):
     """Tell whether a value is HOURS."""
-    return is_row(value, 1, WIDEST) and all(is_between(hour, 0, 1) for hour in value) and 1 in value
+    return is_tuple(value, 1, WIDEST) and all(is_between(hour, 0, 1) for hour in value) and 1 in value
 
 
 def are_rules(value):
     """Tell whether a value is RULES."""
-    return is_row(value, 2, 2) and are_limits(value[0]) and are_hours(value[1])
+    return is_tuple(value, 2, 2) and are_limits(value[0]) and are_hours(value[1])
 
 
 def check_limits(given):
@@ -62,7 +62,7 @@ def first_back(values):
 
 def check_asks(given):
     """Raise InvalidAsks for what is no tuple of asks that may be passed."""
-    if not is_row(given, 0, LONGEST_ROW):
+    if not is_tuple(given, 0, LONGEST_ROW):
         raise InvalidAsks(None)
     index = first_back(given)
     if index is not None:

@@ -4,7 +4,7 @@ from gentlerounds.asking import opens, soonest_asks
 from gentlerounds.checks import check_from
 from gentlerounds.errors import Barred, InvalidCounts, InvalidNumber
 from gentlerounds.limits import check_amount, check_asks, check_limits, check_polite, check_rules
-from gentlerounds.values import is_row, is_whole
+from gentlerounds.values import is_tuple, is_whole
 
 
 def span_of(limits):
@@ -15,7 +15,7 @@ def span_of(limits):
 def fit(limits, value):
     """Tell whether a value is counts that fit the limits."""
     span = span_of(limits)
-    if not is_row(value, span, span) or not all(is_whole(many) and many >= 0 for many in value):
+    if not is_tuple(value, span, span) or not all(is_whole(many) and many >= 0 for many in value):
         return False
     # A window cut short at the end asks less than the whole one ahead of it, or it is all counts together.
     return all([sum(value[at:at + wide]) <= most for most, wide in limits for at in range(span)])

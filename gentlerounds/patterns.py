@@ -3,7 +3,7 @@
 from gentlerounds.errors import InvalidPattern, InvalidPatterns
 from gentlerounds.names import SIGNS, check_path
 from gentlerounds.standings import Machine, walked
-from gentlerounds.values import is_row
+from gentlerounds.values import is_tuple
 
 LONGEST_PATTERN = 12
 MOST_PATTERNS = 6
@@ -26,7 +26,7 @@ def check_pattern(given):
 
 def check_patterns(given):
     """Raise InvalidPatterns for what is no tuple of patterns that may be passed together."""
-    if not is_row(given, 0, MOST_PATTERNS):
+    if not is_tuple(given, 0, MOST_PATTERNS):
         raise InvalidPatterns(None)
     stars = 0
     for index, pattern in enumerate(given):

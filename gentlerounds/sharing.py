@@ -7,7 +7,7 @@ from gentlerounds.asking import tidied_pairs
 from gentlerounds.checks import check_between
 from gentlerounds.errors import InvalidParts, InvalidRows, NoShare
 from gentlerounds.limits import LONGEST_ROW, are_limits, check_limits, check_rules, first_back
-from gentlerounds.values import is_between, is_row
+from gentlerounds.values import is_between, is_tuple
 
 MOST_PARTS = 6
 LATEST = 24
@@ -60,12 +60,12 @@ def are_alike_rules(rules, other):
 
 def is_part(value):
     """Tell whether a value is a part: limits, and how late its asks may come."""
-    return is_row(value, 2, 2) and are_limits(value[0]) and is_between(value[1], 0, LATEST)
+    return is_tuple(value, 2, 2) and are_limits(value[0]) and is_between(value[1], 0, LATEST)
 
 
 def check_parts(given):
     """Raise InvalidParts for what is no tuple of parts."""
-    if not is_row(given, 1, MOST_PARTS):
+    if not is_tuple(given, 1, MOST_PARTS):
         raise InvalidParts(None)
     for index, part in enumerate(given):
         if not is_part(part):
@@ -112,7 +112,7 @@ def crowded_row(part, meeting, wide, many):
 def arrivals(parts, rows):
     """Return all moments at which asks come, in order."""
     check_parts(parts)
-    if not is_row(rows, len(parts), len(parts)):
+    if not is_tuple(rows, len(parts), len(parts)):
         raise InvalidRows(None)
     for index, row in enumerate(rows):
         if not is_row_of(parts[index], row):
@@ -122,7 +122,7 @@ def arrivals(parts, rows):
 
 def is_row_of(part, value):
     """Tell whether a value is a row of the part that may be passed."""
-    if not is_row(value, 0, LONGEST_ROW) or not all(is_row(pair, 2, 2) for pair in value):
+    if not is_tuple(value, 0, LONGEST_ROW) or not all(is_tuple(pair, 2, 2) for pair in value):
         return False
     limits, late = part
     asked = [pair[0] for pair in value]

@@ -15,13 +15,13 @@ def is_between(value, low, high):
 
 def is_fraction(value):
     """Tell whether a value is a fraction in lowest terms."""
-    if not is_row(value, 2, 2):
+    if not is_tuple(value, 2, 2):
         return False
     top, bottom = value
     return is_whole(top) and is_whole(bottom) and bottom > 0 and gcd(top, bottom) == 1
 
 
-def is_row(value, low, high):
+def is_tuple(value, low, high):
     """Tell whether a value is a tuple of low up to high elements, whatever these are."""
     return isinstance(value, tuple) and low <= len(value) <= high
 

@@ -118,7 +118,7 @@ def indexed(kind, rows):
 def run_examples(test, text):
     """Run examples as they stand in the document: each answer has to be the one behind the line."""
     names = dict(vars(errors))
-    lines = text.strip().split("\n")
+    lines = [line for line in text.split("\n") if line]
     while lines:
         line = lines.pop(0)
         test.assertTrue(line.startswith(">>> "), line)

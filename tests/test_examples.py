@@ -79,14 +79,95 @@ SHARING = r'''
 raises NoShare()
 '''
 
-# In the document the file of these is read from a text.
 FILES = r'''
 >>> from gentlerounds.files import group_of, is_file, is_let, paths_of, reason, rules_of
->>> first = ((("gentle", "swift"), (("bar", "/"), ("let", "/open")), ((2, 5),), (1, 1, 0)), (("*",), (("bar", "/*.tmp$"),), (), (1,)))
+>>> from gentlerounds.filetexts import print_file, read_file
+>>> first = read_file("for gentle\nfor swift  # both\nbar /\n let /open\nmost 2 in 5\nopen 110\n\nfor *\nbar /*.tmp$\n")
+>>> [first[0], first[1], print_file(first)]
+[(('gentle', 'swift'), (('bar', '/'), ('let', '/open')), ((2, 5),), (1, 1, 0)), (('*',), (('bar', '/*.tmp$'),), (), (1,)), 'for gentle\nfor swift\nbar /\nlet /open\nmost 2 in 5\nopen 110\nfor *\nbar /*.tmp$\nopen 1\n']
 >>> [is_file(first), is_file(first + first[:1]), group_of(first, "gentlebot"), group_of(first, "gent"), group_of(first[:1], "gent"), rules_of(first, "swift"), paths_of(first[:1], "slow"), rules_of((), "slow")]
 [True, False, 0, 1, None, (((2, 5),), (1, 1, 0)), (), ((), (1,))]
->>> [is_let(first, "gentlebot", "/open/a"), is_let(first, "gentlebot", "/a"), reason(first, "gentlebot", "/a"), reason(first, "slow", "/a"), reason((), "slow", "/a")]
-[True, False, (0, 0), (1, None), (None, None)]
+>>> [is_let(first, "gentlebot", "/open/a"), is_let(first, "gentlebot", "/a"), reason(first, "gentlebot", "/a"), reason(first, "slow", "/a"), reason((), "slow", "/a"), read_file(""), print_file(())]
+[True, False, (0, 0), (1, None), (None, None), (), '']
+>>> read_file("bar /a\n")
+raises InvalidLine(0)
+>>> read_file("for a\nmost 7 in 3\n")
+raises InvalidLine(1)
+>>> read_file("for a\n\nfor a\n")
+raises InvalidLine(2)
+>>> read_file("for a\nbar /")
+raises InvalidLine(1)
+'''
+
+# These go on from those of the files.
+ALIKE_FILES = r'''
+>>> from gentlerounds.alikefiles import are_alike_files, led_as, names_that_matter, parted_names, parting
+>>> second = ((("*",), (), (), (1,)), (("gentle",), (("let", "/open"), ("bar", "/")), ((2, 5), (4, 10)), (1, 1, 0)))
+>>> [names_that_matter(first, second), led_as(first, second, "gentler"), led_as(first, second, "slow"), parted_names(first, second), are_alike_files(first, second)]
+[('a', 'gentle', 'swift'), 'gentle', 'a', ('a', 'swift'), False]
+>>> [are_alike_files(second, second[::-1]), parting(second, second[::-1]), parting(second, second[:1]), parting(first, second)]
+[True, None, ('gentle', '/'), ('a', '/.tmp')]
+'''
+
+WORLDS = r'''
+>>> from gentlerounds.filetexts import read_file
+>>> from gentlerounds.worlds import house_of, is_world, named, next_change, outcome_of, told_at
+>>> mill = ("mill", (), 0, (), (("/a", ((0, ("page", 7, (("mill", "/b"), ("barn", "/x"), ("barn", "/no")))),)), ("/b", ((0, ("moved", ("barn", "/y"))), (5, ("gone",))))))
+>>> barn = ("barn", read_file("for *\nbar /no\nmost 1 in 3\n"), 1, (4,), (("/x", ((0, ("page", 8, ())),)), ("/y", ((2, ("page", 9, (("mill", "/a"),))),))))
+>>> world = (mill, barn)
+>>> [is_world(world), is_world((mill, mill)), told_at(world, ("mill", "/b"), 4), told_at(world, ("barn", "/y"), 1), told_at(world, ("inn", "/"), 9)]
+[True, False, ('moved', ('barn', '/y')), ('gone',), ('gone',)]
+>>> [outcome_of(world, ("barn", "/y"), 4), outcome_of(world, ("barn", "/y"), 7), next_change(world, ("mill", "/b"), 0), next_change(world, ("mill", "/b"), 5), house_of(world, "inn")]
+[(6, ('lost',)), (9, ('page', 9, (('mill', '/a'),))), 5, None, ('inn', (), 0, (), ())]
+>>> named((barn,), (("inn", "/"),))
+(('inn', '/'), ('mill', '/a'))
+'''
+
+# These go on from those of the worlds.
+WORLD_TEXTS = r'''
+>>> from gentlerounds.worldtexts import print_world, read_world
+>>> print_world(world)
+'house mill 0\npage /a\n0 page 7 mill/b barn/x barn/no\npage /b\n0 moved barn/y\n5 gone\nhouse barn 1\n for *\n bar /no\n most 1 in 3\n open 1\nlost 4\npage /x\n0 page 8\npage /y\n2 page 9 mill/a\n'
+>>> [read_world(print_world(world)) == world, read_world(""), read_world("house inn 3\n # closed\n")]
+[True, (), (('inn', (), 3, (), ()),)]
+>>> read_world("house mill 0\npage /a\n")
+raises InvalidLine(2)
+>>> read_world("house mill 0\n for x\n most 7 in 3\nlost 1\n")
+raises InvalidLine(2)
+>>> read_world("house mill 0\npage /a\n5 gone\n5 gone\n")
+raises InvalidLine(3)
+>>> read_world("house mill 0\nlost 3\n for *\n")
+raises InvalidLine(2)
+'''
+
+CRAWLS = r'''
+>>> from gentlerounds.crawls import crawl_of, crawled, next_stir, next_sweep, rested, rests, step_rows, stepped
+>>> from gentlerounds.frontier import asks_left, away, barred, house_asks, met, stands, waiting
+>>> from gentlerounds.logjudge import first_wrong_row, is_crawl, is_right
+>>> from gentlerounds.logs import is_row, log_text, read_log, read_row, row_line
+>>> from gentlerounds.tasks import is_task, may_be_asked, rules_at
+>>> begun_crawl = crawl_of(world, "ann", (("mill", "/a"),), most=2, times=1)
+>>> [begun_crawl[1:], is_task(world, begun_crawl[1]), may_be_asked(world, "ann", ("barn", "/no")), rules_at(world, "ann", "barn"), step_rows(begun_crawl)]
+[(('ann', (('mill', '/a'),), 2, 1, ()), (), 0), True, False, (((1, 3),), (1,)), ((0, ('mill', '/a'), ('ask',)),)]
+>>> done = rested(begun_crawl)
+>>> log_text(done[2])
+'0 ask mill/a\n1 page mill/a 7 mill/b barn/x barn/no\n1 ask mill/b\n1 ask barn/x\n2 moved mill/b barn/y\n3 page barn/x 8\n4 ask barn/y\n6 lost barn/y\n7 ask barn/y\n9 page barn/y 9 mill/a\n'
+>>> [done[3], rests(done), next_stir(done), is_crawl(done), read_log(log_text(done[2])) == done[2], crawled(begun_crawl, 10) == done, stepped(done)[3]]
+[10, True, None, True, True, True, 11]
+>>> amid = crawled(begun_crawl, 3)
+>>> [met(amid), barred(amid), waiting(amid), away(amid), next_stir(crawled(begun_crawl, 8))]
+[(('mill', '/a'), ('mill', '/b'), ('barn', '/x'), ('barn', '/no'), ('barn', '/y')), (('barn', '/no'),), (('barn', '/y'),), ((1, ('barn', '/x')),), 9]
+>>> [stands(amid, ("mill", "/b")), stands(amid, ("barn", "/x")), stands(amid, ("barn", "/z")), house_asks(done, "barn"), asks_left(begun_crawl), asks_left(amid), asks_left(done)]
+['answered', 'away', 'unmet', (1, 4, 7), 8, 3, 0]
+>>> task, rows = done[1], done[2]
+>>> [first_wrong_row(world, task, rows), first_wrong_row(world, task, rows[:1] + ((2,) + rows[1][1:],)), first_wrong_row(world, task, rows[:3] + ((2, ("barn", "/no"), ("ask",)),)), first_wrong_row(world, task, rows[:6] + ((3, ("barn", "/y"), ("ask",)),))]
+[None, (1, 'overdue'), (3, 'barred'), (6, 'impolite')]
+>>> [first_wrong_row(world, task, rows[:1] + ((1, ("mill", "/a"), ("gone",)),)), first_wrong_row(world, task, rows[:4] + ((2,) + rows[5][1:],)), first_wrong_row(world, task, rows[1:]), first_wrong_row(world, task, rows[:4] + rows[5:]), first_wrong_row(world, task, [])]
+[(1, 'untrue'), (4, 'early'), (0, 'unasked'), (4, 'overdue'), (None, 'form')]
+>>> [row_line(rows[7]), read_row("9 page barn/y 9 mill/a") == rows[9], is_row((0, ("mill", "/a"), ("cut",))), is_right(world, task, rows[:7])]
+['6 lost barn/y', True, True, True]
+>>> next_sweep(done)[1:]
+(('ann', (('mill', '/a'),), 2, 1, ((0, 'mill'), (1, 'mill'), (1, 'barn'), (4, 'barn'), (7, 'barn'))), (), 10)
 '''
 
 
@@ -108,6 +189,18 @@ class TestExamples(unittest.TestCase):
 
     def test_files(self):
         run_examples(self, FILES)
+
+    def test_alike_files(self):
+        run_examples(self, FILES + ALIKE_FILES)
+
+    def test_worlds(self):
+        run_examples(self, WORLDS)
+
+    def test_world_texts(self):
+        run_examples(self, WORLDS + WORLD_TEXTS)
+
+    def test_crawls(self):
+        run_examples(self, WORLDS + CRAWLS)
 
 
 if __name__ == "__main__":

@@ -23,6 +23,20 @@ FUNCTIONS = {
         dealt(shared, many, late) most_crawlers(limits, late, shared)""",
     "files": """is_file(value) group_of(file, crawler) paths_of(file, crawler) rules_of(file, crawler)
         is_let(file, crawler, path) reason(file, crawler, path)""",
+    "filetexts": """read_file(text) print_file(file)""",
+    "alikefiles": """names_that_matter(file, other) led_as(file, other, crawler) parted_names(file, other)
+        are_alike_files(file, other) parting(file, other)""",
+    "addresses": """is_address(value) address_text(address) read_address(text)""",
+    "worlds": """is_answer(value) is_world(value) house_of(world, house) told_at(world, address, moment)
+        outcome_of(world, address, moment) next_change(world, address, moment) named(world, seeds)""",
+    "worldtexts": """print_world(world) read_world(text)""",
+    "tasks": """is_task(world, value) rules_at(world, crawler, house) may_be_asked(world, crawler, address)""",
+    "logs": """is_row(value) row_line(row) read_row(text) log_text(log) read_log(text)""",
+    "logjudge": """first_wrong_row(world, task, value) is_right(world, task, value) is_crawl(value)""",
+    "frontier": """met(crawl) barred(crawl) waiting(crawl) away(crawl) stands(crawl, address) house_asks(crawl, house)
+        asks_left(crawl)""",
+    "crawls": """crawl_of(world, crawler, seeds, *, most=1, times=0, past=(), moment=0) step_rows(crawl) stepped(crawl)
+        crawled(crawl, many) rests(crawl) rested(crawl) next_stir(crawl) next_sweep(crawl)""",
 }
 
 METHODS = {
