@@ -16,6 +16,4 @@ def told_event(kind, words):
     """Return what the first word of an event and those behind it tell; only if they are right it is an event."""
     if kind == "page" and words:
         return (kind, number_of(words[0]), tuple([address_of(word) for word in words[1:]]))
-    if kind in ("moved", "same"):
-        return (kind, *[address_of(word) for word in words])
-    return (kind, *words)
+    return (kind, *[address_of(word) for word in words])

@@ -119,7 +119,7 @@ class TestReading(unittest.TestCase):
             self.assertEqual(told(f"for a\nmost 2 in {word}\n")[0] == "file", right, word)
         for word, right in (("1", True), ("01", True), ("0" * 11 + "1", True), ("0" * 12, False), ("1" * 13, False),
                             ("0", False),
-                            ("2", False), ("1,0", False), ("(1)", False), ("\u0661", False)):
+                            ("2", False), ("1x", False), ("1,0", False), ("(1)", False), ("\u0661", False)):
             self.assertEqual(told(f"for a\nopen {word}\n")[0] == "file", right, word)
 
     def test_names_told_twice(self):

@@ -58,6 +58,16 @@ class TestByHand(unittest.TestCase):
             self.assertIs(is_right(WORLD, task, log), True)
             self.assertEqual(frontier.waiting((WORLD, task, log, 4)), order)
 
+    def test_given_up_and_met_again(self):
+        world = (("mill", (), 0, (0,), (("/b", ((0, ("page", 1, (A, B, FAR, A))),)),)),)
+        task = ("ann", (A, B), 9, 0, ())
+        log = ((0, A, ASK), (1, A, LOST), (1, B, ASK), (2, B, ("page", 1, (A, B, FAR, A))))
+        self.assertIs(is_right(world, task, log), True)
+        crawl = (world, task, log, 2)
+        self.assertEqual([frontier.stands(crawl, one) for one in (A, B, FAR)], ["given up", "answered", "waiting"])
+        self.assertEqual((frontier.met(crawl), frontier.waiting(crawl)), ((A, B, FAR), (FAR,)))
+        self.assertEqual(frontier.asks_left(crawl), 1)
+
     def test_house_asks(self):
         task = put(TASK, 4, ((0, "barn"), (0, "far"), (0, "mill")))
         log = tuple((moment + 3, address, event) for moment, address, event in LOG[:2])

@@ -144,6 +144,37 @@ class TestLanguage(unittest.TestCase):
                 if isinstance(node, ast.Call) and isinstance(node.func, ast.Attribute):
                     self.assertIn(node.func.attr, METHODS | own, name)
 
+    def test_attributes_are_no_methods_and_no_properties(self):
+        kept, methods = set(), set()
+        for _, tree in trees():
+            for node in ast.walk(tree):
+                if isinstance(node, ast.Attribute) and isinstance(node.ctx, ast.Store):
+                    kept.add(node.attr)
+                if isinstance(node, ast.ClassDef):
+                    methods |= {one.name for one in node.body if isinstance(one, ast.FunctionDef)}
+        self.assertEqual(kept & methods, set())
+        self.assertEqual(kept & METHODS - {"count", "index", "title", "find", "get", "join", "lower", "upper", "split",
+                                           "strip", "copy", "add"}, set())
+
+    def test_what_is_iterated_at_once_is_not_kept(self):
+        lazy = {"zip", "enumerate", "reversed", "items", "keys", "values", "iter", "map"}
+        for name, tree in trees():
+            for node in ast.walk(tree):
+                if isinstance(node, (ast.Assign, ast.Return)) and isinstance(node.value, ast.Call):
+                    called = node.value.func
+                    self.assertNotIn(getattr(called, "id", getattr(called, "attr", None)), lazy, name)
+                if isinstance(node, (ast.Assign, ast.Return)):
+                    self.assertNotIsInstance(node.value, (ast.GeneratorExp, ast.Set, ast.SetComp), name)
+
+    def test_no_two_files_import_from_each_other(self):
+        ways = {name[:-3]: {node.module.partition(".")[2] for node in tree.body if isinstance(node, ast.ImportFrom)
+                            and node.module.startswith("gentlerounds.")} for name, tree in trees()}
+        while ways:
+            ends = [name for name in ways if not ways[name] & set(ways)]
+            self.assertTrue(ends, ways)
+            for name in ends:
+                del ways[name]
+
     def test_errors_are_made_on_the_spot(self):
         for name, tree in trees():
             for node in ast.walk(tree):
