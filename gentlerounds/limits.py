@@ -60,6 +60,11 @@ def first_back(values):
     return None
 
 
+def are_asks(value):
+    """Tell whether a value is asks that may be passed."""
+    return is_tuple(value, 0, LONGEST_ROW) and first_back(value) is None
+
+
 def check_asks(given):
     """Raise InvalidAsks for what is no tuple of asks that may be passed."""
     if not is_tuple(given, 0, LONGEST_ROW):
