@@ -179,7 +179,45 @@ def told(every, value):
     return {one: number(number_told) for one, number_told in value}
 
 
+def is_setup(value):
+    """Whether a value is a set-up, told strictly."""
+    if not is_row_of(value, 3, 3, lambda one: True):
+        return False
+    houses, pages, most = value
+    if not is_row_of(houses, 1, 3, is_house) or type(most) is not int or not 1 <= most <= 3:
+        return False
+    return is_row_of(pages, 1, 4, lambda page: is_page(page, len(houses)))
+
+
+def is_row_of(value, low, high, check):
+    return type(value) is tuple and low <= len(value) <= high and all(check(one) for one in value)
+
+
+def is_within(value, low, high):
+    return type(value) is int and low <= value <= high
+
+
+def is_house(value):
+    if not is_row_of(value, 2, 2, lambda one: type(one) is tuple):
+        return False
+    limits, hours = value
+    pairs = is_row_of(limits, 0, 4, lambda one: is_row_of(one, 2, 2, lambda number_told: True)
+                      and is_within(one[0], 1, 6) and is_within(one[1], 1, 5))
+    return pairs and is_row_of(hours, 1, 4, lambda one: is_within(one, 0, 1)) and sum(hours) > 0
+
+
+def is_page(value, many):
+    if not is_row_of(value, 2, 2, lambda one: True) or not is_within(value[0], 0, many - 1):
+        return False
+    if not is_row_of(value[1], 1, 4, is_number):
+        return False
+    worths = [number(one) for one in value[1]]
+    return worths == sorted(worths)[::-1] and worths[-1] >= 0
+
+
+@lru_cache(maxsize=None)
 def every_standing(setup):
+    """The texts of all standings."""
     return {repr(one) for one in standings(setup)}
 
 

@@ -7,8 +7,8 @@ from gentlerounds.limits import is_polite
 from tests import plainsetups as plain
 from tests.helper import any_values, given, indexed, no_tuples, refusals
 from tests.samples import put
-from tests.setupsamples import (EDGE, JUST, ONE, OVER, PAIR, PRESS, THREE, TWO, VAST, no_setups, no_standings,
-                                some_acts, some_setup)
+from tests.setupsamples import (EDGE, JUST, ONE, OVER, PAIR, PRESS, SHORT, THREE, TWO, VAST, changes, no_setups,
+                                no_standings, some_acts, some_setup)
 
 
 def no_acts():
@@ -49,6 +49,15 @@ class TestSetups(unittest.TestCase):
     def test_wrong_ones(self):
         for value in no_setups():
             self.check(value, False)
+
+    def test_any_changes(self):
+        seen = {True: 0, False: 0}
+        for setup in (PRESS, PAIR, EDGE):
+            for value in changes(setup, SHORT + (ONE, (0, (ONE,)), ((), (1,)))):
+                right = plain.is_setup(value)
+                self.check(value, right)
+                seen[right] += 1
+        self.assertGreater(min(seen.values()), 100, seen)
 
     def test_any_ones(self):
         source = random.Random(80)
@@ -91,6 +100,13 @@ class TestStandings(unittest.TestCase):
             for value in no_standings(setup):
                 self.check(setup, value, False)
             self.check(setup, plain.begun(setup), True)
+
+    def test_any_changes(self):
+        for setup in (PRESS, PAIR):
+            every = plain.every_standing(setup)
+            for one in plain.standings(setup)[::5]:
+                for value in changes(one, SHORT):
+                    self.check(setup, value, repr(value) in every)
 
 
 class TestByHand(unittest.TestCase):
