@@ -100,9 +100,9 @@ def end_of(crawl, address):
 def alike(crawl):
     """Return for each page in the log of a crawl its address and all addresses from which one comes to it."""
     answers = walk_behind(crawl).answers
-    members = {address: [] for address in sorted(answers) if answers[address][0] == "page"}
+    members = {page: [] for page in sorted(answers) if answers[page][0] == "page"}
     for address in sorted(answers):
         word, end = end_by(answers, address)
         if word == "page":
             members[end].append(address)
-    return tuple([(address, tuple(members[address])) for address in members])
+    return tuple([(page, tuple(rows)) for page, rows in members.items()])

@@ -56,9 +56,9 @@ def bound_of(setup, table):
     if not is_table(setup, table):
         raise InvalidTable(table)
     check_reached(setup)
-    potentials = [potential for _, potential in table[1]]
-    least = potentials[0]
-    for potential in potentials:
+    _, pairs = table
+    least = pairs[0][1]
+    for _, potential in pairs:
         if is_up_to(potential, least):
             least = potential
-    return minus(dict(table[1])[Moves(setup).first()], least)
+    return minus(dict(pairs)[Moves(setup).first()], least)

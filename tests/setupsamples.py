@@ -50,7 +50,8 @@ def no_setups():
     """Values that are no set-ups."""
     page, house = (0, (ONE,)), ((), (1,))
     rows = [((bad,), (page,), 1) for bad in no_houses()] + [((house, bad), (page,), 1) for bad in no_houses()[::9]]
-    rows += [((house,), (bad,), 1) for bad in no_pages()] + [((house,), (page, page, bad), 2) for bad in no_pages()[::9]]
+    rows += [((house,), (bad,), 1) for bad in no_pages()] + [((house,), (page, page, bad), 2)
+                                                             for bad in no_pages()[::9]]
     rows += [((house,), (page,), bad) for bad in no_numbers(1, 3)]
     rows += [(bad, (page,), 1) for bad in no_tuples() + [(), (house,) * 4, house]]
     rows += [((house,), bad, 1) for bad in no_tuples() + [(), (page,) * 5, page]]

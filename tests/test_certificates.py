@@ -44,7 +44,8 @@ class TestClaims(unittest.TestCase):
             asks = tuple(sorted(source.randint(0, 12) for _ in range(source.randint(0, 5))))
             right = slow_polite(rules, asks)
             seen[right] += 1
-            paper = self.check(certificates.certify_polite(rules, asks), "polite" if right else "not polite", rules, asks)
+            paper = self.check(certificates.certify_polite(rules, asks), "polite" if right else "not polite", rules,
+                               asks)
             self.assertEqual(paper, ())
         self.assertGreater(min(seen.values()), 50)
         self.check(certificates.certify_polite(RULES, ASKS), "polite", RULES, ASKS)
@@ -55,7 +56,8 @@ class TestClaims(unittest.TestCase):
         pairs = [(some_limits(source, 4, 6, 2), some_limits(source, 4, 6, 2)) for _ in range(300)]
         for limits, other in pairs + [((), ()), ((), ((6, 1),)), (((6, 1),), ()), (((1, 12),), ((6, 12),))]:
             row = loose(limits, other)
-            paper = self.check(certificates.certify_stricter(limits, other), "stricter" if row is None else "not stricter",
+            paper = self.check(certificates.certify_stricter(limits, other), "stricter" if row is None
+                               else "not stricter",
                                limits, other)
             seen[row is None] += 1
             if row is None:
@@ -93,7 +95,8 @@ class TestClaims(unittest.TestCase):
                     for more in (Fraction(-1, 10 ** 9), Fraction(0), Fraction(1, 10 ** 9)):
                         number = plain.pair(best + more)
                         word = "sum up to" if more >= 0 else "sum from"
-                        paper = self.check(certificates.certify_sum(setup, here, n, number), word, setup, here, n, number)
+                        paper = self.check(certificates.certify_sum(setup, here, n, number), word, setup, here, n,
+                                           number)
                         self.assertEqual(len(paper), n + 1 if more >= 0 else n)
 
     def test_logs(self):
@@ -134,7 +137,8 @@ class TestErrors(unittest.TestCase):
                  "number": given(InvalidFraction, [one for one in no_fractions() if one != (-1, 1)])}
         refusals(self, certificates.certify_rate, [("setup", PRESS), ("number", (11, 4))], wrong,
                  last=[({"setup": OVER}, TooMany, None), ({"setup": VAST}, TooMany, None)])
-        refusals(self, certificates.certify_sum, [("setup", PRESS), ("standing", START), ("n", 2), ("number", ONE)], wrong)
+        refusals(self, certificates.certify_sum, [("setup", PRESS), ("standing", START), ("n", 2), ("number", ONE)],
+                 wrong)
         tasks = [(None, None), ([], None), (TASK[:4], None), (put(TASK, 0, "A"), 0), (put(TASK, 1, None), 1),
                  (put(TASK, 2, 0), 2), (put(TASK, 3, True), 3), (put(TASK, 4, ((0, 0),)), 4)]
         wrong = {"world": indexed_wrong(InvalidWorld, no_worlds()[::9]),

@@ -61,7 +61,8 @@ class TestByHand(unittest.TestCase):
         self.assertEqual(fresh_console(), (((), None, None, None), ()))
         words = ("rest", "sweep", "log", "journal", "waiting", "barred", "copies", "judge", "go 0", "go 400", "cut 0 0",
                  "cut 999999999999 999999999999")
-        self.stays(fresh_console(), *[(word, "no crawl") for word in words], ("again 0", "no cut"), ("best 0", "no set-up"),
+        self.stays(fresh_console(), *[(word, "no crawl") for word in words], ("again 0", "no cut"),
+                   ("best 0", "no set-up"),
                    ("best 12", "no set-up"), ("again 999999999999", "no cut"),
                    ("back", "nothing there"), ("world", "0 houses"))
 
@@ -130,8 +131,10 @@ class TestByHand(unittest.TestCase):
                             ("rest", "moment 4, 3 asks, 0 wait, 0 away, at rest"))
         crawl = console[0][1]
         lines = journal_of(crawl).split("\n")
-        for line in ("cut", "cut ", "cut 0", "cut 0 ", "cut  0 0", "cut 00 0", "cut 0 00", "cut 0 0 0", "cut a 0", "cut -1 0",
-                     "cut 0 0 ", "cut 0 1234567890123", "again", "again ", "again 01", "again 1 1", "again -1", "again a",
+        for line in ("cut", "cut ", "cut 0", "cut 0 ", "cut  0 0", "cut 00 0", "cut 0 00", "cut 0 0 0", "cut a 0",
+                     "cut -1 0",
+                     "cut 0 0 ", "cut 0 1234567890123", "again", "again ", "again 01", "again 1 1", "again -1",
+                     "again a",
                      "again 1234567890123"):
             self.stays(console, (line, NO))
         many = len(crawl[2])
@@ -145,7 +148,8 @@ class TestByHand(unittest.TestCase):
             told = self.talk((f"cut {rows} {torn}", "cut"), ("journal", text or "nothing"), console=console)
             self.assertEqual(told[0], (crawl[0], crawl, text, None))
             self.assertEqual(told[1][-1], console[0])
-            self.stays(told, *[(word, "no crawl") for word in ("log", "go 1", "rest", "sweep", "waiting", "barred", "copies",
+            self.stays(told, *[(word, "no crawl") for word in ("log", "go 1", "rest", "sweep", "waiting", "barred",
+                                                               "copies",
                                                               "judge", "cut 0 0", "cut 99 99")])
         cut = self.talk(("cut 4 0", "cut"), console=console)
         self.assertEqual(read_journal(cut[0][2]), crawl[2][:4])
@@ -169,7 +173,8 @@ class TestByHand(unittest.TestCase):
                      "most 1 ; house most 7 in 5 open 1 ; page 0 1", "most 1 ; house most 1 in 5 ; page 0 1",
                      "most 1 ; house open 1 most 1 in 5 ; page 0 1", "most 1 ; house most 1 of 5 open 1 ; page 0 1",
                      "most 1 ; house most 1 in 5 most open 1 ; page 0 1", "most 1 ; house open 1 ; page 1 1",
-                     "most 1 ; house open 1 ; page 0", "most 1 ; house open 1 ; page", "most 1 ; house open 1 ; page 0 ",
+                     "most 1 ; house open 1 ; page 0", "most 1 ; house open 1 ; page",
+                     "most 1 ; house open 1 ; page 0 ",
                      "most 1 ; house open 1 ; page 0 1/1", "most 1 ; house open 1 ; page 0 2/4",
                      "most 1 ; house open 1 ; page 0 1/0", "most 1 ; house open 1 ; page 0 0/2",
                      "most 1 ; house open 1 ; page 0 1/", "most 1 ; house open 1 ; page 0 /2",
@@ -178,8 +183,10 @@ class TestByHand(unittest.TestCase):
                      "most 1 ; house open 1 ; page 0 1 2", "most 1 ; house open 1 ; page 0 1/3 1/2",
                      "most 1 ; house open 1 ; page 0 1 1 1 1 1", "most 1 ; house open 1 ; page 0  1",
                      "most 1 ; house open 1 ; page 0 1234567890123", "most 1 ; house open 1 ; page 0 1/1234567890123",
-                     "most 1 ; house open 1;page 0 1", "most 1  ; house open 1 ; page 0 1", " most 1 ; house open 1 ; page 0 1",
-                     "most 1 ; house open 1 ; page 0 1 ; ", "most 1 ; house open 1 ; page 0 1 ;", "most 1 ;  ; page 0 1",
+                     "most 1 ; house open 1;page 0 1", "most 1  ; house open 1 ; page 0 1",
+                     " most 1 ; house open 1 ; page 0 1",
+                     "most 1 ; house open 1 ; page 0 1 ; ", "most 1 ; house open 1 ; page 0 1 ;",
+                     "most 1 ;  ; page 0 1",
                      "most 1 ; most 1 ; house open 1 ; page 0 1", "most 1 1 ; house open 1 ; page 0 1",
                      "most 1 ; house open 1 ; page 00 1", "most ; house open 1 ; page 0 1",
                      "most 1" + " ; house open 1" * 4 + " ; page 0 1", "most 1 ; house open 1" + " ; page 0 1" * 5,
@@ -189,14 +196,16 @@ class TestByHand(unittest.TestCase):
                      "best -1", "best 1 1", "best 1 ", "best  1", "best a", "best 100"):
             self.stays(fresh_console(), (line, NO))
         self.stays(fresh_console(), (setup_line(OVER), "too many"))
-        console = self.talk((PRESS_LINE, "rate 11/4, bound 3/4, 7 standings"), ("best 0", "best 0"), ("best 5", "best 14"),
+        console = self.talk((PRESS_LINE, "rate 11/4, bound 3/4, 7 standings"), ("best 0", "best 0"),
+                            ("best 5", "best 14"),
                             (PRESS_LINE, "rate 11/4, bound 3/4, 7 standings"))
         self.assertEqual(console, (((), None, None, PRESS), (fresh_console()[0],)))
         self.stays(console, (setup_line(OVER), "too many"), ("setup x", "not a set-up"), ("best 12", "best 33"))
         self.talk((setup_line(PAIR), "rate 203/72, bound 179/72, 45 standings"), ("best 1", "best 17/4"),
                   ("setup most 1 ; house open 1 ; page 0 0", "rate 0, bound 0, 2 standings"),
                   ("setup most 1 ; house open 1 ; page 0 999999999998/7", "rate 999999999998/7, bound 0, 2 standings"),
-                  ("setup most 3" + " ; house most 6 in 5 most 1 in 1 most 6 in 1 most 1 in 1 open 0001" + " ; page 0 1/2" * 4,
+                  ("setup most 3 ; house most 6 in 5 most 1 in 1 most 6 in 1 most 1 in 1 open 0001"
+                   + " ; page 0 1/2" * 4,
                    "rate 1/8, bound 0, 11 standings"))
         self.assertEqual(said(fresh_console(), setup_line(JUST))[1].split(", ")[2], "400 standings")
 
@@ -226,7 +235,8 @@ class TestByHand(unittest.TestCase):
                             ("go 1", "moment 1, 1 asks, 0 wait, 1 away"), ("cut 0 5", "cut"),
                             ("again 1", "moment 1, 0 asks, 1 wait, 0 away"), ("back", "back"), ("journal", "0 0 a"),
                             ("again 9", "moment 9, 0 asks, 1 wait, 0 away"), ("back", "back"), ("back", "back"),
-                            ("log", "0 ask mill/a"), (PRESS_LINE, "rate 11/4, bound 3/4, 7 standings"), ("back", "back"),
+                            ("log", "0 ask mill/a"), (PRESS_LINE, "rate 11/4, bound 3/4, 7 standings"),
+                            ("back", "back"),
                             ("best 1", "no set-up"), ("back", "back"), ("back", "back"), ("go 1", "no crawl"),
                             ("back", "back"), ("back", "nothing there"))
         self.assertEqual(console, fresh_console())
@@ -234,7 +244,8 @@ class TestByHand(unittest.TestCase):
     def test_other_lines(self):
         console = self.talk((MILL, "1 houses"), ("crawl ann 1 0 mill/a", "moment 0, 0 asks, 1 wait, 0 away"))
         for line in ("", " ", "\n", "x", "help", "go\n1", "judge\n", "rest\n", "log log", "crawl", "\u00e9", "barred ",
-                     "copies 1", "waiting x", "journal ", "JUDGE", "judge 1", "go 1\n", "best", "again", "0", "not understood"):
+                     "copies 1", "waiting x", "journal ", "JUDGE", "judge 1", "go 1\n", "best", "again", "0",
+                     "not understood"):
             self.stays(console, (line, NO))
 
 
@@ -251,7 +262,8 @@ class TestAgainstThePlainConsole(unittest.TestCase):
             return source.choice((world_line(world), world_line(WORLD)))
         if kind == "crawl":
             seeds = ["".join(some_address(source)) for _ in range(source.choice((0, 1, 3, 8, 8, 9)))]
-            return " ".join(["crawl", source.choice(("ann", "ann", "anna", "bob")), str(source.choice((1, 1, 2, 9, 10))),
+            return " ".join(["crawl", source.choice(("ann", "ann", "anna", "bob")),
+                             str(source.choice((1, 1, 2, 9, 10))),
                              str(source.choice((0, 1, 3, 4)))] + seeds)
         if kind == "setup":
             return setup_line(source.choice((PRESS, some_setup(source, 25))))
@@ -260,7 +272,8 @@ class TestAgainstThePlainConsole(unittest.TestCase):
         if kind in numbers:
             return f"{kind} {numbers[kind]}"
         if kind == "cut":
-            return f"cut {source.choice((rows, rows + 1, source.randint(0, rows)))} {source.choice((0, 0, 1, 7, 30, 60))}"
+            behind = source.choice((rows, rows + 1, source.randint(0, rows)))
+            return f"cut {behind} {source.choice((0, 0, 1, 7, 30, 60))}"
         return kind
 
     def changed(self, source, line):
@@ -314,7 +327,8 @@ class TestAgainstThePlainConsole(unittest.TestCase):
         seen = {True: 0, False: 0}
         for at in range(60):
             text = print_world(some_world(source) or WORLD)[:-1]
-            lines = ["gone", "page /a", "house inn 2", " for x", "0 gone", "lost 1", "", " ", "  ", " open 1", "9 page 1 a/a"]
+            lines = ["gone", "page /a", "house inn 2", " for x", "0 gone", "lost 1", "", " ", "  ", " open 1",
+                     "9 page 1 a/a"]
             for changed in edits(source, text, lines, "/*a0 1\n#;"):
                 line = "world " + changed.replace("\n", " ; ")
                 plain = Console()

@@ -17,7 +17,8 @@ def no_copies():
     """Values that are no copies by themselves."""
     rows = [(bad, 1, 1) for bad in no_addresses()] + [(MILL, bad, 1) for bad in no_numbers(0, 999999)]
     rows += [(MILL, 1, bad) for bad in no_moments()]
-    return any_values() + rows + [ONE[:2], ONE + (1,), list(ONE), (8, ("barn", "/x"), 1), (MILL, 1, None), (Echo(), 1, 1)]
+    return any_values() + rows + [ONE[:2], ONE + (1,), list(ONE), (8, ("barn", "/x"), 1), (MILL, 1, None),
+                                  (Echo(), 1, 1)]
 
 
 def wrong_copies():
@@ -93,7 +94,8 @@ class TestCopies(unittest.TestCase):
             self.assertEqual(copies.joined_copies(both, both), both)
             self.assertEqual(copies.joined_copies(one, ()), one)
             self.assertEqual(copies.joined_copies((), one), one)
-            self.assertEqual(copies.joined_copies(both, three), copies.joined_copies(one, copies.joined_copies(two, three)))
+            self.assertEqual(copies.joined_copies(both, three), copies.joined_copies(one,
+                                                                                     copies.joined_copies(two, three)))
 
     def test_joined_by_hand(self):
         for mark, moment, wins in ((9, 0, False), (9, 1, True), (7, 1, False), (0, 2, True), (8, 1, True)):
@@ -115,7 +117,8 @@ class TestCopies(unittest.TestCase):
         self.assertGreater(min(seen.values()), 60)
         world = (("mill", (), 0, (), (("/a", ((3, ("page", 1, ())), (5, ("page", 1, (B,))), (7, ("same", B)))),)),)
         told = ((A, 1, 0),)
-        self.assertEqual([len(copies.still_so(world, told, moment)) for moment in range(9)], [0, 0, 0, 1, 1, 1, 1, 0, 0])
+        self.assertEqual([len(copies.still_so(world, told, moment)) for moment in range(9)],
+                         [0, 0, 0, 1, 1, 1, 1, 0, 0])
         self.assertEqual(copies.still_so(world, ((A, 2, 3),), 3), ())
         self.assertEqual(copies.still_so((), told, LAST), ())
 
@@ -176,7 +179,8 @@ class TestErrors(unittest.TestCase):
         crawl = (WORLD, TASK, LOG, 4)
         refusals(self, copies.copies_of, [("crawl", crawl)], {})
         refusals(self, copies.alike, [("crawl", crawl)], {})
-        refusals(self, copies.end_of, [("crawl", crawl), ("address", A)], {"address": given(InvalidAddress, no_addresses())})
+        refusals(self, copies.end_of, [("crawl", crawl), ("address", A)], {"address": given(InvalidAddress,
+                                                                                            no_addresses())})
         told = indexed(InvalidCopies, wrong_copies())
         refusals(self, copies.joined_copies, [("copies", (ONE, THREE)), ("others", (TWO,))],
                  {"copies": told, "others": told})

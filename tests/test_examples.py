@@ -170,6 +170,78 @@ CRAWLS = r'''
 (('ann', (('mill', '/a'),), 2, 1, ((0, 'mill'), (1, 'mill'), (1, 'barn'), (4, 'barn'), (7, 'barn'))), (), 10)
 '''
 
+# These go on from those of the crawls, those of copies and of the console likewise.
+JOURNALS = r'''
+>>> from gentlerounds.journals import again, behind, cut, deeds_of, journal_of, print_journal, read_journal, seal_of
+>>> [seal_of("0 0 ask mill/a"), cut(done, 1, 5), read_journal(cut(done, 1, 5)) == rows[:1], read_journal(journal_of(done)) == rows, print_journal(rows) == journal_of(done)]
+[9048, '0 0 ask mill/a 9048\n1 1 p', True, True, True]
+>>> anew = again(begun_crawl, cut(done, 1, 5), 2)
+>>> [anew[2][1:], anew[3], waiting(anew), again(begun_crawl, journal_of(anew), 2) == anew, house_asks(rested(anew), "mill"), rested(anew)[3]]
+[((2, ('mill', '/a'), ('cut',)),), 2, (('mill', '/a'),), True, (0, 2, 3), 9]
+>>> [deeds_of(rows[:1]), behind(deeds_of(rows), 1), behind(deeds_of(rows), 2, 5)]
+[(('write', '0 0 ask mill/a 9048\n'), ('ask', 0, ('mill', '/a'))), ('0 0 ask mill/a 9048\n', ()), ('0 0 ask mill/a 9048\n1 1 p', ((0, ('mill', '/a')),))]
+>>> read_journal("0 0 ask mill/b 9048\n")
+raises InvalidJournal(0)
+>>> again(begun_crawl, journal_of(done), 8)
+raises NotNow()
+'''
+
+COPIES = r'''
+>>> from gentlerounds.copies import alike, copies_of, end_of, joined_copies, still_so
+>>> copies_of(done)
+((('barn', '/x'), 8, 1), (('barn', '/y'), 9, 7), (('mill', '/a'), 7, 0))
+>>> [len(still_so(world, copies_of(done), 1)), end_of(done, ("mill", "/b")), end_of(done, ("barn", "/no")), alike(done)[1]]
+[2, ('page', ('barn', '/y')), ('none', ('barn', '/no')), (('barn', '/y'), (('barn', '/y'), ('mill', '/b')))]
+>>> joined_copies(copies_of(done), ((("barn", "/y"), 3, 7), (("inn", "/"), 1, 0), (("mill", "/a"), 2, 4)))
+((('barn', '/x'), 8, 1), (('barn', '/y'), 9, 7), (('inn', '/'), 1, 0), (('mill', '/a'), 2, 4))
+'''
+
+SETUPS = r'''
+>>> from gentlerounds.setups import acts_at, asks_by, begun, is_setup, led, period_of, step, sum_of, worth_of
+>>> one, two, three = (1, 1), (2, 1), (3, 1)
+>>> press = (((((1, 2),), (1,)),), ((0, (three, two, two)), (0, (two, two))), 1)
+>>> [is_setup(press), period_of(press), begun(press), acts_at(press, begun(press))]
+[True, 1, (0, ((0,),), (3, 2)), ((), (0,), (1,))]
+>>> [step(press, begun(press), (0,)), acts_at(press, step(press, begun(press), (0,))), sum_of(press, begun(press), ((0,), (), (1,)))]
+[(0, ((1,),), (0, 2)), ((),), (9, 1)]
+>>> [led(press, begun(press), ((0,), (), (1,)))[3], worth_of(press, (0, ((1,),), (2, 0))), asks_by(press, ((0,), (), (1,)))]
+[(0, ((1,),), (2, 0)), (4, 1), ((0, 2),)]
+'''
+
+# These go on from those of the set-ups.
+STAGES = r'''
+>>> from gentlerounds.stages import best_row, best_sum, staged, takes_staged
+>>> [best_sum(press, begun(press), n) for n in (0, 1, 2, 3, 4, 5)]
+[(0, 1), (3, 1), (5, 1), (9, 1), (11, 1), (14, 1)]
+>>> [staged(press, begun(press), 1), takes_staged(press, begun(press), 1, staged(press, begun(press), 1)), sum_of(press, begun(press), best_row(press, begun(press), 5))]
+[((((0, ((0,),), (3, 2)), (0, 1)), ((0, ((1,),), (0, 2)), (0, 1)), ((0, ((1,),), (3, 0)), (0, 1))), (((0, ((0,),), (3, 2)), (3, 1)),)), True, (14, 1)]
+'''
+
+ROUNDS = r'''
+>>> from gentlerounds.rings import is_ring, mean_of, ring_of
+>>> from gentlerounds.rounds import behind_by, round_plan, waiting_of
+>>> from gentlerounds.tables import bound_of, rate_of, reached, takes_table, told_table
+>>> turns = ((), ((0,), (), (1,), ()))
+>>> [is_ring(press, turns), is_ring(press, (((0,), (), (1,), ()), ((0,), (), (1,), ()))), rate_of(press), len(reached(press))]
+[False, True, (11, 4), 7]
+>>> table = told_table(press)
+>>> [table[0], bound_of(press, table), table[1][0], takes_table(press, table), takes_table(press, ((5, 2), table[1])), mean_of(press, ring_of(press))]
+[(11, 4), (3, 4), ((0, ((0,),), (1, 2)), (5, 4)), True, False, (11, 4)]
+>>> fair = (((0,), (), (1,), ()), ((0,), (), (1,), ()))
+>>> [waiting_of(press, (0, ((1,),), (0, 2))), round_plan(press, fair, (0, ((1,),), (1, 2)), 4), behind_by(press, fair, begun(press))]
+[3, ((), (), (0,), ()), 8]
+'''
+
+CONSOLE = r'''
+>>> from gentlerounds.console import fresh_console, said, told_all
+>>> lines = ("world house mill 0 ; page /a ; 0 page 7 mill/b ; page /b ; 0 gone", "crawl ann 1 0 mill/a", "go 1", "cut 0 5", "journal", "again 1", "rest", "log")
+>>> console, answers = told_all(fresh_console(), lines)
+>>> answers
+('1 houses', 'moment 0, 0 asks, 1 wait, 0 away', 'moment 1, 1 asks, 0 wait, 1 away', 'cut', '0 0 a', 'moment 1, 0 asks, 1 wait, 0 away', 'moment 4, 2 asks, 0 wait, 0 away, at rest', '1 ask mill/a\n2 page mill/a 7 mill/b\n2 ask mill/b\n3 gone mill/b')
+>>> told_all(console, ("copies", "judge", "go 401", "setup most 1 ; house most 1 in 2 open 1 ; page 0 3 2 2 ; page 0 2 2", "best 3", "sweep", "back", "back"))[1]
+('mill/a 7 1', 'right', 'not understood', 'rate 11/4, bound 3/4, 7 standings', 'best 9', 'moment 4, 0 asks, 1 wait, 0 away', 'back', 'back')
+'''
+
 
 class TestExamples(unittest.TestCase):
     def test_patterns(self):
@@ -201,6 +273,28 @@ class TestExamples(unittest.TestCase):
 
     def test_crawls(self):
         run_examples(self, WORLDS + CRAWLS)
+
+    def test_journals(self):
+        run_examples(self, WORLDS + CRAWLS + JOURNALS)
+
+    def test_copies(self):
+        run_examples(self, WORLDS + CRAWLS + COPIES)
+
+    def test_setups(self):
+        run_examples(self, SETUPS)
+
+    def test_stages(self):
+        run_examples(self, SETUPS + STAGES)
+
+    def test_tables_rings_and_rounds(self):
+        run_examples(self, SETUPS + ROUNDS)
+
+    def test_console(self):
+        run_examples(self, CONSOLE)
+
+    def test_all_of_them_one_behind_the_other(self):
+        run_examples(self, PATTERNS + DECISIONS + LIMITS + MONITORS + SHARING + FILES + ALIKE_FILES + WORLDS + WORLD_TEXTS
+                     + CRAWLS + JOURNALS + COPIES + SETUPS + STAGES + ROUNDS + CONSOLE)
 
 
 if __name__ == "__main__":

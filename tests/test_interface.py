@@ -37,6 +37,23 @@ FUNCTIONS = {
         asks_left(crawl)""",
     "crawls": """crawl_of(world, crawler, seeds, *, most=1, times=0, past=(), moment=0) step_rows(crawl) stepped(crawl)
         crawled(crawl, many) rests(crawl) rested(crawl) next_stir(crawl) next_sweep(crawl)""",
+    "journals": """seal_of(text) journal_of(crawl) print_journal(log) read_journal(text) cut(crawl, rows, torn)
+        deeds_of(log) behind(deeds, many, torn=0) again(crawl, text, moment)""",
+    "copies": """is_copies(value) copies_of(crawl) joined_copies(copies, others) still_so(world, copies, moment)
+        end_of(crawl, address) alike(crawl)""",
+    "setups": """is_setup(value) is_standing(setup, value) period_of(setup) begun(setup) worth_of(setup, standing)
+        acts_at(setup, standing) step(setup, standing, act) led(setup, standing, acts) sum_of(setup, standing, acts)
+        asks_by(setup, acts)""",
+    "stages": """best_sum(setup, standing, n) best_row(setup, standing, n) staged(setup, standing, n)
+        takes_staged(setup, standing, n, value)""",
+    "tables": """reached(setup) rate_of(setup) told_table(setup) takes_table(setup, value) bound_of(setup, table)""",
+    "rings": """is_ring(setup, value) mean_of(setup, ring) ring_of(setup)""",
+    "rounds": """waiting_of(setup, standing) round_plan(setup, ring, standing, many)
+        behind_by(setup, ring, standing)""",
+    "checker": """accepts(claim, paper)""",
+    "certificates": """certify_polite(rules, asks) certify_stricter(limits, other) certify_rate(setup, number)
+        certify_sum(setup, standing, n, number) certify_log(world, task, value)""",
+    "console": """fresh_console() said(console, line) told_all(console, lines)""",
 }
 
 METHODS = {

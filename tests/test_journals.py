@@ -93,7 +93,8 @@ class TestTexts(unittest.TestCase):
         lines = noted(LOG)
         for many in range(len(lines) + 1):
             ahead = "".join(lines[:many])
-            for torn in ["x", "0", " ", "\r", "0 0 ask mill/a"] + [row[:at] for row in lines for at in (1, 9, len(row) - 1)]:
+            for torn in ["x", "0", " ", "\r", "0 0 ask mill/a"] + [row[:at] for row in lines
+                                                                   for at in (1, 9, len(row) - 1)]:
                 self.assertEqual(journals.read_journal(ahead + torn), LOG[:many])
 
     def test_one_sign_changed(self):
@@ -165,7 +166,8 @@ class TestCut(unittest.TestCase):
     def test_errors(self):
         many = len(LOG)
         longest = len(noted(LOG)[2]) - 1
-        wrong = {"rows": given(InvalidNumber, no_numbers(0, many)), "torn": given(InvalidNumber, no_numbers(0, longest))}
+        wrong = {"rows": given(InvalidNumber, no_numbers(0, many)), "torn": given(InvalidNumber,
+                                                                                  no_numbers(0, longest))}
         refusals(self, journals.cut, [("crawl", CRAWL), ("rows", 2), ("torn", longest)], wrong)
         wrong["torn"] = given(InvalidNumber, no_numbers(0, 0))
         refusals(self, journals.cut, [("crawl", CRAWL), ("rows", many), ("torn", 0)], wrong)
@@ -211,7 +213,8 @@ class TestDeeds(unittest.TestCase):
     def test_errors(self):
         deeds = (("write", "abc"), ("ask", 5, A), ("write", ""), ("ask", 0, B), ("write", "x"))
         bad = any_values() + [("write",), ("write", "a", "b"), ("write", b"a"), ("write", None), ("ask",), ("ask", 1),
-                              ("ask", 1, A, A), ("Ask", 1, A), ("ask", A, 1), ["write", "a"], (b"write", "a"), ("ask", "a"),
+                              ("ask", 1, A, A), ("Ask", 1, A), ("ask", A, 1), ["write", "a"], (b"write", "a"),
+                              ("ask", "a"),
                               ("write", 1, A), ("writes", "a")]
         bad += [("ask", value, A) for value in no_moments()] + [("ask", 1, value) for value in no_addresses()]
         bad += [("write", value) for value in no_tuples() if not isinstance(value, str)]
@@ -367,7 +370,8 @@ class TestAgain(unittest.TestCase):
         wrong = {"text": [(value, InvalidJournal, index) for value, index in texts],
                  "moment": given(InvalidMoment, no_numbers(0, BEGIN) + [LAST])}
         unmet = journals.print_journal(LOG[:2] + ((1, ("far", "/q"), ASK), (0, A, GONE)))
-        last = [({"text": unmet}, InvalidLog, 2), ({"text": unmet, "moment": 0}, InvalidLog, 2), ({"moment": 3}, NotNow, None),
+        last = [({"text": unmet}, InvalidLog, 2), ({"text": unmet, "moment": 0}, InvalidLog, 2),
+                ({"moment": 3}, NotNow, None),
                 ({"text": journals.print_journal(LOG[1:])}, InvalidLog, 0), ({"moment": 0}, NotNow, None)]
         refusals(self, journals.again, [("crawl", CRAWL), ("text", text), ("moment", 4)], wrong, last=last)
         self.assertEqual(journals.again(CRAWL, text, BEGIN)[3], BEGIN)

@@ -43,7 +43,8 @@ class TestSetups(unittest.TestCase):
                               ((TWO, TWO), True), ((TWO, THREE), False), (((5, 2), TWO), True), (((3, 2), TWO), False),
                               (((1, 2), (1, 3), (1, 4), (0, 1)), True), (((1, 2), (1, 3), (1, 3), (2, 5)), False),
                               (((2, 3), (3, 4)), False), (((3, 4), (2, 3)), True), (((-1, 2),), False),
-                              (((0, 1), (-1, 2)), False), (((0, 3),), False), (((2, 6),), False), ((ONE, (0, 1)), True)):
+                              (((0, 1), (-1, 2)), False), (((0, 3),), False), (((2, 6),), False),
+                              ((ONE, (0, 1)), True)):
             self.check(((((), (1,)),), ((0, worths),), 1), right)
 
     def test_wrong_ones(self):

@@ -26,15 +26,16 @@ class TestBestSums(unittest.TestCase):
 
     def test_all_rows(self):
         source = random.Random(85)
-        seen = 0
+        seen = longest = 0
         for _ in range(90):
             setup = some_setup(source, 60)
             for here in (plain.begun(setup), source.choice(plain.standings(setup))):
                 best = 0
                 for n in range(13):
-                    if len(plain.acts(setup, plain.begun(setup))) ** n > 400:
-                        break
                     rows = plain.rows(setup, here, n)
+                    if len(rows) > 400:
+                        break
+                    longest = max(longest, n)
                     greatest = max(total for _, total, _ in rows)
                     self.assertGreaterEqual(greatest, best)
                     best = greatest
@@ -45,6 +46,7 @@ class TestBestSums(unittest.TestCase):
                     self.check_staged(setup, here, n)
                     seen += 1
         self.assertGreater(seen, 200)
+        self.assertEqual(longest, 12)
 
     def check_staged(self, setup, here, n):
         """The told table has just the standings that n - k acts lead to, with their best sums of k moments."""
