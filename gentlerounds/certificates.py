@@ -1,7 +1,6 @@
 """Claims that are so, with papers that the checker accepts for them."""
 
 from gentlerounds.asking import ALWAYS
-from gentlerounds.bounds import check_reached
 from gentlerounds.errors import InvalidFraction, InvalidLine
 from gentlerounds.limits import check_limits, is_polite
 from gentlerounds.logjudge import is_right
@@ -44,7 +43,6 @@ def certify_rate(setup, number):
     """Return the claim that the rate is up to the number, or that it is from it on, and its paper."""
     check_setup(setup)
     check_fraction(number)
-    check_reached(setup)
     if is_up_to(rate_of(setup), number):
         return ("rate up to", setup, number), told_table(setup)
     return ("rate from", setup, number), ring_of(setup)

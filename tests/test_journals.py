@@ -8,7 +8,7 @@ from gentlerounds.errors import (InvalidDeeds, InvalidJournal, InvalidLine, Inva
 from gentlerounds.frontier import asks_left, barred, met, stands, waiting
 from gentlerounds.logjudge import is_crawl, is_right
 from tests import plain
-from tests.helper import any_values, given, indexed, no_numbers, no_tuples, refusals, slow_polite
+from tests.helper import Echo, any_values, given, indexed, no_numbers, no_tuples, refusals, slow_polite
 from tests.samples import (LAST, MILL, NAMES, no_addresses, no_moments, put, some_crawl, some_task,
                            some_world)
 from tests.test_logjudge import A, B, C, LOG, TASK, WORLD
@@ -215,7 +215,7 @@ class TestDeeds(unittest.TestCase):
         bad = any_values() + [("write",), ("write", "a", "b"), ("write", b"a"), ("write", None), ("ask",), ("ask", 1),
                               ("ask", 1, A, A), ("Ask", 1, A), ("ask", A, 1), ["write", "a"], (b"write", "a"),
                               ("ask", "a"),
-                              ("write", 1, A), ("writes", "a")]
+                              ("write", 1, A), ("writes", "a"), (Echo(), "a"), (Echo(), 1, A)]
         bad += [("ask", value, A) for value in no_moments()] + [("ask", 1, value) for value in no_addresses()]
         bad += [("write", value) for value in no_tuples() if not isinstance(value, str)]
         rows = [((value,), 0) for value in bad] + [(deeds[:2] + (value, None), 2) for value in bad]
@@ -227,6 +227,9 @@ class TestDeeds(unittest.TestCase):
             wrong["torn"] = given(InvalidNumber, no_numbers(0, 0))
             refusals(self, journals.behind, [("deeds", deeds), ("many", many), ("torn", 0)], {"torn": wrong["torn"]})
         self.assertEqual(journals.behind(deeds, 5), ("abcx", ((5, A), (0, B))))
+        # Behind the ask that comes next a line would be written, but not yet.
+        refusals(self, journals.behind, [("deeds", journals.deeds_of(LOG)), ("many", 1), ("torn", 0)],
+                 {"torn": wrong["torn"]})
         self.assertEqual(journals.behind((("ask", LAST, A),), 1), ("", ((LAST, A),)))
 
 
