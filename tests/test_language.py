@@ -46,6 +46,21 @@ def docstrings(tree):
     return {id(node.body[0].value) for node in ast.walk(tree) if isinstance(node, kinds) and ast.get_docstring(node)}
 
 
+COMPREHENSIONS = (ast.ListComp, ast.DictComp, ast.SetComp, ast.GeneratorExp)
+
+
+def called(node):
+    """The name of what a call calls; None for what is no call."""
+    if not isinstance(node, ast.Call):
+        return None
+    return getattr(node.func, "id", getattr(node.func, "attr", None))
+
+
+def targets(comprehension):
+    """The names that a comprehension assigns."""
+    return {one.id for row in comprehension.generators for one in ast.walk(row.target) if isinstance(one, ast.Name)}
+
+
 class TestFiles(unittest.TestCase):
     def test_the_folder_holds_python_files_alone(self):
         for path in PACKAGE.rglob("*"):
@@ -165,6 +180,60 @@ class TestLanguage(unittest.TestCase):
                     self.assertNotIn(getattr(called, "id", getattr(called, "attr", None)), lazy, name)
                 if isinstance(node, (ast.Assign, ast.Return)):
                     self.assertNotIsInstance(node.value, (ast.GeneratorExp, ast.Set, ast.SetComp), name)
+
+    def test_generators_lazy_calls_and_sets_stand_where_they_may(self):
+        calls = {"list", "tuple", "dict", "sorted", "sum", "min", "max", "any", "all"}
+        for name, tree in trees():
+            ahead = {below: above for above in ast.walk(tree) for below in ast.iter_child_nodes(above)}
+            for node in ast.walk(tree):
+                above = ahead.get(node)
+                word = called(above)
+                if isinstance(node, ast.GeneratorExp):
+                    self.assertIn(word, calls | {"join"}, (name, node.lineno))
+                    self.assertFalse([one for one in above.keywords if one.arg == "key"], (name, node.lineno))
+                if called(node) in ("zip", "enumerate", "reversed", "range", "items", "keys", "values", "combinations"):
+                    is_gone_through = isinstance(above, (ast.For, ast.comprehension)) and above.iter is node
+                    self.assertTrue(is_gone_through or word in calls | {"zip", "enumerate"}, (name, node.lineno))
+                if isinstance(node, (ast.Set, ast.SetComp)) or called(node) in ("set", "frozenset"):
+                    self.assertIn(word, ("len", "sorted"), (name, node.lineno))
+
+    def test_what_is_compared_by_is(self):
+        for name, tree in trees():
+            for node in ast.walk(tree):
+                if isinstance(node, ast.Compare):
+                    for sign, other in zip(node.ops, node.comparators):
+                        if isinstance(sign, (ast.Is, ast.IsNot)):
+                            self.assertIn(repr(getattr(other, "value", ...)), ("None", "True", "False"), name)
+
+    def test_no_strings_in_the_braces(self):
+        for name, tree in trees():
+            for node in ast.walk(tree):
+                if isinstance(node, ast.FormattedValue):
+                    for one in ast.walk(node.value):
+                        self.assertNotIsInstance(one, ast.JoinedStr, name)
+                        if isinstance(one, ast.Constant):
+                            self.assertNotIsInstance(one.value, (str, bytes), name)
+
+    def test_names_in_comprehensions_are_their_own(self):
+        for name, tree in trees():
+            for function in [node for node in ast.walk(tree) if isinstance(node, ast.FunctionDef)]:
+                rows = [node for node in ast.walk(function) if isinstance(node, COMPREHENSIONS)]
+                for row in rows:
+                    inner = [one for one in ast.walk(row) if isinstance(one, COMPREHENSIONS) and one is not row]
+                    for one in inner:
+                        self.assertFalse(targets(one) & targets(row) - {"_"}, (name, function.name))
+
+    def test_tables_of_functions_are_only_read(self):
+        for name, tree in trees():
+            tables = {node.targets[0].id for node in tree.body
+                      if isinstance(node, ast.Assign) and isinstance(node.value, (ast.Dict, ast.List))}
+            ahead = {below: above for above in ast.walk(tree) for below in ast.iter_child_nodes(above)}
+            for node in ast.walk(tree):
+                if isinstance(node, ast.Name) and node.id in tables and isinstance(node.ctx, ast.Load):
+                    above = ahead[node]
+                    self.assertIsInstance(above, (ast.Subscript, ast.Compare), name)
+                    self.assertIsInstance(getattr(above, "ctx", ast.Load()), ast.Load, name)
+                    self.assertNotIsInstance(ahead[above], ast.Call, name)
 
     def test_no_two_files_import_from_each_other(self):
         ways = {name[:-3]: {node.module.partition(".")[2] for node in tree.body if isinstance(node, ast.ImportFrom)
