@@ -1,7 +1,7 @@
 """Claims that are so, with papers that the checker accepts for them."""
 
 from gentlerounds.asking import ALWAYS
-from gentlerounds.errors import InvalidFraction, InvalidLine
+from gentlerounds.errors import InvalidFraction, InvalidLog
 from gentlerounds.limits import check_limits, is_polite
 from gentlerounds.logjudge import is_right
 from gentlerounds.rings import ring_of
@@ -62,6 +62,6 @@ def certify_log(world, task, value):
     check_world(world)
     check_task(world, task)
     if not isinstance(value, tuple):
-        raise InvalidLine(None)
+        raise InvalidLog(None)
     word = "right log" if is_right(world, task, value) else "wrong log"
     return (word, world, task, value), NOTHING

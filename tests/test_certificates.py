@@ -4,7 +4,7 @@ from fractions import Fraction
 
 from gentlerounds import certificates
 from gentlerounds.checker import accepts
-from gentlerounds.errors import (InvalidAsks, InvalidFraction, InvalidLimits, InvalidLine, InvalidNumber, InvalidRules,
+from gentlerounds.errors import (InvalidAsks, InvalidFraction, InvalidLimits, InvalidLog, InvalidNumber, InvalidRules,
                                  InvalidSetup, InvalidStanding, InvalidTask, InvalidWorld, TooMany)
 from gentlerounds.stages import best_sum
 from gentlerounds.tables import rate_of
@@ -143,7 +143,7 @@ class TestErrors(unittest.TestCase):
                  (put(TASK, 2, 0), 2), (put(TASK, 3, True), 3), (put(TASK, 4, ((0, 0),)), 4)]
         wrong = {"world": indexed_wrong(InvalidWorld, no_worlds()[::9]),
                  "task": [(value, InvalidTask, index) for value, index in tasks],
-                 "value": [(value, InvalidLine, None) for value in no_tuples()]}
+                 "value": [(value, InvalidLog, None) for value in no_tuples()]}
         refusals(self, certificates.certify_log, [("world", WORLD), ("task", TASK), ("value", LOG)], wrong)
 
     def test_no_bound_to_sums(self):
